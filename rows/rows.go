@@ -5,6 +5,7 @@ import (
 	"slices"
 
 	"raycone/api"
+	"raycone/bound"
 	"raycone/wide"
 )
 
@@ -31,12 +32,13 @@ func Dot(a, b []int) (int, error) {
 func Valid(m [][]int) error {
 	long := func(r []int) bool { return len(r) > api.MaxRows }
 	unlike := func(r []int) bool { return len(r) != len(m[0]) }
+	great := func(r []int) bool { return bound.Great(r...) }
 	switch {
 	case len(m) > api.MaxRows || slices.ContainsFunc(m, long):
 		return api.ErrBound
 	case slices.ContainsFunc(m, unlike):
 		return api.ErrShape
-	case slices.ContainsFunc(m, hasGreat):
+	case slices.ContainsFunc(m, great):
 		return api.ErrBound
 	}
 	return nil
@@ -48,13 +50,7 @@ func Echelon(m [][]int) ([][]int, error) {
 	if err != nil {
 		return nil, err
 	}
-	told := make([][]int, len(reduced))
-	for i, r := range reduced {
-		if told[i], err = tell(r); err != nil {
-			return nil, err
-		}
-	}
-	return told, nil
+	return bound.TellAll(reduced)
 }
 
 // Rank of a matrix.
@@ -71,10 +67,10 @@ func Reduce(r []int, m [][]int) ([]int, error) {
 		return nil, err
 	case len(m) > 0 && len(r) != len(m[0]):
 		return nil, api.ErrShape
-	case len(r) > api.MaxRows || hasGreat(r):
+	case len(r) > api.MaxRows || bound.Great(r...):
 		return nil, api.ErrBound
 	}
-	return tell(wide.RowOf(r).Rest(reduced))
+	return bound.Tell(wide.RowOf(r).Rest(reduced))
 }
 
 // Combine two rows. It tells numbers above api.MaxTold too: the document names no error for them, and an int always holds them.
@@ -82,7 +78,7 @@ func Combine(a []int, x int, b []int, y int) ([]int, error) {
 	if err := validPair(a, b); err != nil {
 		return nil, err
 	}
-	if hasGreat([]int{x, y}) {
+	if bound.Great(x, y) {
 		return nil, api.ErrBound
 	}
 	l, _ := wide.RowOf(a).Sum(wide.From(x), wide.RowOf(b), wide.From(y)).Normal().Ints()
@@ -93,15 +89,10 @@ func validPair(a, b []int) error {
 	switch {
 	case len(a) != len(b):
 		return api.ErrShape
-	case hasGreat(a) || hasGreat(b):
+	case bound.Great(a...) || bound.Great(b...):
 		return api.ErrBound
 	}
 	return nil
-}
-
-// hasGreat tells whether a number is too great to be handed in.
-func hasGreat(r []int) bool {
-	return slices.ContainsFunc(r, func(n int) bool { return wide.From(n).Above(api.MaxEntry) })
 }
 
 // reducedRows are of any size: only what is told has a bound.
@@ -109,17 +100,5 @@ func reducedRows(m [][]int) ([]wide.Row, error) {
 	if err := Valid(m); err != nil {
 		return nil, err
 	}
-	l := make([]wide.Row, len(m))
-	for i, r := range m {
-		l[i] = wide.RowOf(r)
-	}
-	return wide.Reduced(l), nil
-}
-
-func tell(r wide.Row) ([]int, error) {
-	if r.Any(func(n wide.Num) bool { return n.Above(api.MaxTold) }) {
-		return nil, api.ErrBound
-	}
-	l, _ := r.Ints()
-	return l, nil
+	return wide.Reduced(wide.RowsOf(m)), nil
 }

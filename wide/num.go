@@ -55,6 +55,14 @@ func nearSize(n int) uint64 {
 // Sign is -1, 0 or 1.
 func (a Num) Sign() int { return cmp.Compare(a.near, 0) }
 
+// Compare with b: -1 below it, 0 the same, 1 above it.
+func (a Num) Compare(b Num) int {
+	if a.isNear() && b.isNear() {
+		return cmp.Compare(a.near, b.near)
+	}
+	return a.Minus(b).Sign()
+}
+
 // Above tells whether the size is above most, which is from 0 on.
 func (a Num) Above(most int) bool {
 	return !a.isNear() || a.near > most || a.near < -most

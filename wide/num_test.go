@@ -90,6 +90,9 @@ func checkPair(t *testing.T, a, b Num) {
 		quotient.Quo(x, y)
 	}
 	check("quotient", a.Over(b), quotient)
+	if got := a.Compare(b); got != x.Cmp(y) {
+		t.Errorf("%v held against %v: %d", x, y, got)
+	}
 	check("exact quotient", a.Times(b).Over(b), new(big.Int).Mul(x, big.NewInt(int64(b.Sign()*b.Sign()))))
 }
 

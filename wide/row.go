@@ -1,5 +1,7 @@
 package wide
 
+import "slices"
+
 // Row of numbers of any size. No method changes one; what comes is new.
 type Row []Num
 
@@ -10,6 +12,15 @@ func RowOf(l []int) Row {
 		r[i] = From(n)
 	}
 	return r
+}
+
+// RowsOf lists of ints.
+func RowsOf(m [][]int) []Row {
+	l := make([]Row, len(m))
+	for i, r := range m {
+		l[i] = RowOf(r)
+	}
+	return l
 }
 
 // Ints are the numbers, if an int holds each of them.
@@ -24,6 +35,9 @@ func (r Row) Ints() ([]int, bool) {
 	}
 	return l, true
 }
+
+// Compare with another row: number by number, from the first on.
+func (r Row) Compare(other Row) int { return slices.CompareFunc(r, other, Num.Compare) }
 
 // First place of which is tells true; -1: there is none.
 func (r Row) First(is func(n Num) bool) int {

@@ -1,6 +1,7 @@
 package wide
 
 import (
+	"cmp"
 	"math"
 	"math/rand"
 	"slices"
@@ -22,6 +23,18 @@ func TestRowAsked(t *testing.T) {
 	}
 	if got := Row(nil).Pivot(); got != -1 {
 		t.Error(got)
+	}
+}
+
+func TestRowCompare(t *testing.T) {
+	great := From(math.MaxInt).Times(From(2))
+	rising := []Row{{}, {great.Negated()}, {From(-1), great}, {From(0)}, {From(0), From(-5)}, {From(0), From(3)}, {From(2)}, {great}, {great.Plus(From(1))}}
+	for i, a := range rising {
+		for j, b := range rising {
+			if got := a.Compare(b); got != cmp.Compare(i, j) {
+				t.Error(i, j, got)
+			}
+		}
 	}
 }
 
