@@ -33,3 +33,27 @@ func TellAll(l []wide.Row) ([][]int, error) {
 	}
 	return told, nil
 }
+
+// TellKinds of rows, if there are not too many of all kinds together, and none of their numbers is too great.
+func TellKinds(kinds ...[]wide.Row) ([][][]int, error) {
+	if Count(kinds...) > api.MaxMany {
+		return nil, api.ErrBound
+	}
+	told := make([][][]int, len(kinds))
+	for i, l := range kinds {
+		var err error
+		if told[i], err = TellAll(l); err != nil {
+			return nil, err
+		}
+	}
+	return told, nil
+}
+
+// Count of all kinds together.
+func Count[R any](kinds ...[]R) int {
+	n := 0
+	for _, l := range kinds {
+		n += len(l)
+	}
+	return n
+}

@@ -46,3 +46,45 @@ func TestTell(t *testing.T) {
 		t.Error(got, err)
 	}
 }
+
+func TestCount(t *testing.T) {
+	if Count[int]() != 0 || Count[int](nil, nil) != 0 || Count([]int{1, 2}, nil, []int{3}) != 3 {
+		t.Error(Count[int](), Count[int](nil, nil), Count([]int{1, 2}, nil, []int{3}))
+	}
+}
+
+// All kinds together have one bound.
+func TestTellKinds(t *testing.T) {
+	rows := func(n int) []wide.Row { return slices.Repeat([]wide.Row{wide.RowOf([]int{1, -2})}, n) }
+	for _, c := range []struct {
+		kinds []int
+		want  error
+	}{
+		{nil, nil},
+		{[]int{0}, nil},
+		{[]int{60}, nil},
+		{[]int{20, 0, 40}, nil},
+		{[]int{61}, api.ErrBound},
+		{[]int{30, 31}, api.ErrBound},
+		{[]int{20, 20, 20, 1}, api.ErrBound},
+	} {
+		var kinds [][]wide.Row
+		for _, n := range c.kinds {
+			kinds = append(kinds, rows(n))
+		}
+		told, err := TellKinds(kinds...)
+		if err != c.want || err != nil && len(told) != 0 || err == nil && len(told) != len(c.kinds) {
+			t.Error(c, told, err)
+			continue
+		}
+		for i, l := range told {
+			if len(l) != c.kinds[i] || slices.ContainsFunc(l, func(r []int) bool { return !slices.Equal(r, []int{1, -2}) }) {
+				t.Error(c, l)
+			}
+		}
+	}
+	great := []wide.Row{wide.RowOf([]int{0, api.MaxTold + 1})}
+	if told, err := TellKinds(rows(1), great); len(told) != 0 || err != api.ErrBound {
+		t.Error(told, err)
+	}
+}

@@ -6,9 +6,16 @@ import "math/bits"
 type places []uint64
 
 func placesBelow(n int) places {
-	var p places
+	return placesWhere(n, func(int) bool { return true })
+}
+
+// placesWhere: the numbers below n of which is tells true.
+func placesWhere(n int, is func(i int) bool) places {
+	p := make(places, (n+63)/64)
 	for i := range n {
-		p = p.with(i)
+		if is(i) {
+			p[i/64] |= 1 << (i % 64)
+		}
 	}
 	return p
 }

@@ -25,6 +25,16 @@ func TestPlacesBelow(t *testing.T) {
 	}
 }
 
+func TestPlacesWhere(t *testing.T) {
+	for _, n := range []int{0, 1, 63, 64, 65, 200} {
+		third := func(i int) bool { return i%3 == 2 }
+		p := placesWhere(n, third)
+		if l := list(p); len(l) != n/3 || p.count() != n/3 || slices.ContainsFunc(l, func(i int) bool { return !third(i) }) {
+			t.Error(n, l, p.count())
+		}
+	}
+}
+
 func TestPlacesKept(t *testing.T) {
 	p := placesBelow(3)
 	a, b := p.with(9), p.with(70)
