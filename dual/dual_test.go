@@ -2,6 +2,7 @@ package dual
 
 import (
 	"fmt"
+	"slices"
 	"testing"
 
 	"raycone/wide"
@@ -53,6 +54,56 @@ func TestGeneratorsMost(t *testing.T) {
 			t.Error(c, len(rays), len(lines))
 		}
 	}
+}
+
+// Some of many rays are told as soon as it is sure that there are more.
+func TestFewGenerators(t *testing.T) {
+	var up []wide.Row
+	for x := range 40 {
+		up = append(up, wide.RowOf([]int{1, x, x * x, x * x * x}))
+	}
+	all, _ := Generators(4, up, nil)
+	if len(all) != 2*40-4 {
+		t.Fatal(len(all))
+	}
+	for most := range 80 {
+		few, lines := FewGenerators(4, up, nil, most)
+		if len(few) != min(most+1, len(all)) || len(lines) != 0 {
+			t.Error(most, len(few), len(lines))
+		}
+		for _, r := range few {
+			if !slices.ContainsFunc(all, func(one wide.Row) bool { return one.Compare(r) == 0 }) {
+				t.Error(most, r)
+			}
+		}
+	}
+	// Each ray is counted once, also one on which many rows are 0.
+	for dim := 2; dim <= 6; dim++ {
+		for most := range 2 * dim {
+			few, _ := FewGenerators(dim, corners(dim), nil, most)
+			if len(few) != min(most+1, 2*dim-2) {
+				t.Error(dim, most, texts(few))
+			}
+		}
+	}
+	// Lines are told whole, whatever rays there are.
+	few, lines := FewGenerators(4, wide.RowsOf([][]int{{1, 0, 0, 0}, {0, 1, 0, 0}}), wide.RowsOf([][]int{{0, 0, 1, 1}}), 0)
+	if len(few) != 1 || texts(lines) != "[[0 0 1 -1]]" {
+		t.Error(texts(few), texts(lines))
+	}
+}
+
+// corners of a cube, with 1 behind them.
+func corners(dim int) []wide.Row {
+	l := [][]int{{1}}
+	for range dim - 1 {
+		var m [][]int
+		for _, r := range l {
+			m = append(m, append([]int{-1}, r...), append([]int{1}, r...))
+		}
+		l = m
+	}
+	return wide.RowsOf(l)
 }
 
 // What is handed over is only read.

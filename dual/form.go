@@ -17,7 +17,7 @@ func Form(up, even, rays []wide.Row) (formUp, formEven []wide.Row) {
 			both = append(both, r)
 			continue
 		}
-		faces = append(faces, ray{r, flat})
+		faces = append(faces, ray{row: r, flat: flat})
 	}
 	formEven = wide.Reduced(both)
 	for i, f := range faces {

@@ -11,37 +11,44 @@ import (
 )
 
 // Poly is a polyhedron as a cone of one dimension more: of its points with Den behind X, and of its rays and lines with 0 behind. A row has minus B behind A: so its Dot with one of these is from 0 on (with Eq: 0) where it holds.
-// Rows and generators are in form (P31, P33). No method changes them.
+// Rows and generators are in form (P31, P33). Nobody changes them.
 type Poly struct {
-	dim         int
-	up, even    []wide.Row
-	rays, lines []wide.Row // points are rays with something behind them
+	Dim         int
+	Up, Even    []wide.Row
+	Rays, Lines []wide.Row // points are rays with something behind them
 }
 
-// Of a polyhedron by rows, which is Valid.
+// Of a polyhedron by rows, which is Valid but for their number.
 func Of(p api.Poly) Poly {
-	up, even := []wide.Row{endless(p.Dim)}, []wide.Row(nil)
-	for _, r := range p.Rows {
+	up, even := Split(p.Rows)
+	return ByRows(p.Dim, up, even)
+}
+
+// Split rows into those that hold one way, and those with Eq.
+func Split(rows []api.Row) (up, even []wide.Row) {
+	for _, r := range rows {
 		if r.Eq {
 			even = append(even, rowOf(r))
 		} else {
 			up = append(up, rowOf(r))
 		}
 	}
-	rays, lines := dual.Generators(p.Dim+1, up, even)
-	if !slices.ContainsFunc(rays, isPoint) {
-		return nothing(p.Dim)
-	}
-	up, even = dual.Form(up, even, rays)
-	return Poly{p.Dim, withoutEndless(up), even, rays, lines}
+	return up, even
 }
 
-// OfGens: of a polyhedron by generators, which is Valid.
-func OfGens(g api.Gens) Poly {
-	if len(g.Points) == 0 {
-		return nothing(g.Dim)
+// ByRows: the polyhedron of dim numbers at each point of which the rows up are from 0 on, and the rows even are 0.
+func ByRows(dim int, up, even []wide.Row) Poly {
+	up = slices.Concat(up, []wide.Row{endless(dim)})
+	rays, lines := dual.Generators(dim+1, up, even)
+	if !slices.ContainsFunc(rays, isPoint) {
+		return nothing(dim)
 	}
-	var rays, lines []wide.Row
+	up, even = dual.Form(up, even, rays)
+	return Poly{dim, withoutEndless(up), even, rays, lines}
+}
+
+// Makers of a polyhedron by generators, which is Valid.
+func Makers(g api.Gens) (rays, lines []wide.Row) {
 	for _, x := range g.Points {
 		rays = append(rays, pointOf(x))
 	}
@@ -51,14 +58,22 @@ func OfGens(g api.Gens) Poly {
 	for _, l := range g.Lines {
 		lines = append(lines, behind(l, 0))
 	}
-	up, even := dual.Generators(g.Dim+1, rays, lines)
-	rays, lines = dual.Form(rays, lines, up)
-	return Poly{g.Dim, withoutEndless(up), even, rays, lines}
+	return rays, lines
+}
+
+// Hull of points, rays and lines: the least polyhedron of dim numbers that has them, by rows in form, if they can be told.
+func Hull(dim int, rays, lines []wide.Row) (api.Poly, error) {
+	if !slices.ContainsFunc(rays, isPoint) {
+		return nothing(dim).Rows()
+	}
+	// One more than can be told may be the endless one.
+	up, even := dual.FewGenerators(dim+1, rays, lines, api.MaxMany+1)
+	return tell(dim, withoutEndless(up), even)
 }
 
 // nothing at all: its one row holds nowhere.
 func nothing(dim int) Poly {
-	return Poly{dim: dim, up: []wide.Row{behind(make([]int, dim), -1)}}
+	return Poly{Dim: dim, Up: []wide.Row{behind(make([]int, dim), -1)}}
 }
 
 // endless is the row by which Den is from 0 on: it bounds the cone, and holds at each point.
@@ -78,62 +93,74 @@ func pointOf(x api.Point) wide.Row { return behind(x.X, x.Den) }
 func isPoint(r wide.Row) bool { return r[len(r)-1].Sign() > 0 }
 
 // Empty tells whether it has no points.
-func (p Poly) Empty() bool { return !slices.ContainsFunc(p.rays, isPoint) }
+func (p Poly) Empty() bool { return !slices.ContainsFunc(p.Rays, isPoint) }
 
 // Holds tells whether a row, which is Valid, holds at each point.
 func (p Poly) Holds(r api.Row) bool {
-	holds := held(r)
-	fails := func(ray wide.Row) bool { return !holds(ray) }
-	failsOnce := func(line wide.Row) bool { return fails(line) || fails(line.Each(wide.Num.Negated)) }
-	return !slices.ContainsFunc(p.rays, fails) && !slices.ContainsFunc(p.lines, failsOnce)
+	if r.Eq {
+		return p.IsEven(rowOf(r))
+	}
+	return p.IsUp(rowOf(r))
+}
+
+// IsUp tells whether a row is from 0 on at each point.
+func (p Poly) IsUp(r wide.Row) bool {
+	below := func(ray wide.Row) bool { return r.Dot(ray).Sign() < 0 }
+	return !slices.ContainsFunc(p.Rays, below) && !slices.ContainsFunc(p.Lines, cuts(r))
+}
+
+// IsEven tells whether a row is 0 at each point.
+func (p Poly) IsEven(r wide.Row) bool {
+	return !slices.ContainsFunc(p.Rays, cuts(r)) && !slices.ContainsFunc(p.Lines, cuts(r))
+}
+
+// cuts is asked whether the row is other than 0 on a ray.
+func cuts(r wide.Row) func(ray wide.Row) bool {
+	return func(ray wide.Row) bool { return r.Dot(ray).Sign() != 0 }
 }
 
 // HoldsAt tells whether a row holds at a point, both of them Valid.
-func HoldsAt(r api.Row, x api.Point) bool { return held(r)(pointOf(x)) }
-
-// held is asked whether the row holds at a point, or along a ray.
-func held(r api.Row) func(ray wide.Row) bool {
-	row := rowOf(r)
-	return func(ray wide.Row) bool {
-		side := row.Dot(ray).Sign()
-		return side == 0 || side > 0 && !r.Eq
-	}
+func HoldsAt(r api.Row, x api.Point) bool {
+	side := rowOf(r).Dot(pointOf(x)).Sign()
+	return side == 0 || side > 0 && !r.Eq
 }
 
 // Rows in form (P31), if they can be told.
-func (p Poly) Rows() (api.Poly, error) {
-	told, err := bound.TellKinds(p.even, p.up)
+func (p Poly) Rows() (api.Poly, error) { return tell(p.Dim, p.Up, p.Even) }
+
+func tell(dim int, up, even []wide.Row) (api.Poly, error) {
+	told, err := bound.TellKinds(even, up)
 	if err != nil {
 		return api.Poly{}, err
 	}
-	rows := api.Poly{Dim: p.dim}
+	p := api.Poly{Dim: dim}
 	for kind, l := range told {
 		for _, r := range l {
-			rows.Rows = append(rows.Rows, api.Row{Eq: kind == 0, A: p.ahead(r), B: -r[p.dim]})
+			p.Rows = append(p.Rows, api.Row{Eq: kind == 0, A: ahead(r), B: -r[dim]})
 		}
 	}
-	return rows, nil
+	return p, nil
 }
 
 // Gens in form (P33), if they can be told.
 func (p Poly) Gens() (api.Gens, error) {
-	told, err := bound.TellKinds(p.rays, p.lines)
+	told, err := bound.TellKinds(p.Rays, p.Lines)
 	if err != nil {
 		return api.Gens{}, err
 	}
-	gens := api.Gens{Dim: p.dim}
+	gens := api.Gens{Dim: p.Dim}
 	for _, r := range told[0] {
-		if den := r[p.dim]; den > 0 {
-			gens.Points = append(gens.Points, api.Point{X: p.ahead(r), Den: den})
+		if den := r[p.Dim]; den > 0 {
+			gens.Points = append(gens.Points, api.Point{X: ahead(r), Den: den})
 		} else {
-			gens.Rays = append(gens.Rays, p.ahead(r))
+			gens.Rays = append(gens.Rays, ahead(r))
 		}
 	}
 	for _, l := range told[1] {
-		gens.Lines = append(gens.Lines, p.ahead(l))
+		gens.Lines = append(gens.Lines, ahead(l))
 	}
 	return gens, nil
 }
 
 // ahead of the last number: the caller of an answer sees nothing behind it.
-func (p Poly) ahead(r []int) []int { return r[:p.dim:p.dim] }
+func ahead(r []int) []int { return r[: len(r)-1 : len(r)-1] }

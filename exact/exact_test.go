@@ -6,6 +6,7 @@ import (
 	"testing"
 
 	"raycone/api"
+	"raycone/wide"
 )
 
 func least(b int, a ...int) api.Row { return api.Row{A: a, B: b} }
@@ -25,7 +26,12 @@ func both(t *testing.T, p Poly) string {
 	return fmt.Sprint(rows, gens)
 }
 
-// A polyhedron has both its forms, whichever way it comes in.
+func hullOf(g api.Gens) (api.Poly, error) {
+	rays, lines := Makers(g)
+	return Hull(g.Dim, rays, lines)
+}
+
+// A polyhedron has both its forms; and of its generators come its rows.
 func TestBothForms(t *testing.T) {
 	for _, c := range []struct {
 		p    api.Poly
@@ -43,27 +49,69 @@ func TestBothForms(t *testing.T) {
 		if got := both(t, p); got != c.want {
 			t.Error(c.p, got)
 		}
+		rows, _ := p.Rows()
 		gens, _ := p.Gens()
-		if got := both(t, OfGens(gens)); got != c.want {
-			t.Error(gens, got)
+		if got, err := hullOf(gens); fmt.Sprint(got) != fmt.Sprint(rows) || err != nil {
+			t.Error(gens, got, err)
 		}
 	}
 }
 
 // Generators that are needless, or together something else.
-func TestOfGens(t *testing.T) {
+func TestHull(t *testing.T) {
 	for _, c := range []struct {
 		g    api.Gens
 		want string
 	}{
-		{api.Gens{Dim: 1, Rays: [][]int{{1}}, Lines: [][]int{{1}}}, "{1 [{false [0] 1}]} {1 [] [] []}"},
-		{api.Gens{Dim: 1, Points: []api.Point{{X: []int{4}, Den: 2}, {X: []int{2}, Den: 1}}}, "{1 [{true [1] 2}]} {1 [{[2] 1}] [] []}"},
-		{api.Gens{Dim: 1, Points: []api.Point{{X: []int{4}, Den: 2}, {X: []int{1}, Den: 1}}, Rays: [][]int{{3}, {0}, {1}}}, "{1 [{false [1] 1}]} {1 [{[1] 1}] [[1]] []}"},
-		{api.Gens{Dim: 2, Points: []api.Point{{X: []int{1, 5}, Den: 3}}, Rays: [][]int{{2, 0}, {-4, 0}}}, "{2 [{true [0 3] 5}]} {2 [{[0 5] 3}] [] [[1 0]]}"},
-		{api.Gens{Dim: 2, Points: []api.Point{{X: []int{0, 0}, Den: 1}, {X: []int{2, 0}, Den: 1}, {X: []int{1, 0}, Den: 1}, {X: []int{0, 2}, Den: 1}}, Rays: [][]int{{0, 1}, {1, 1}, {1, 2}}}, "{2 [{false [-1 1] -2} {false [0 1] 0} {false [1 0] 0}]} {2 [{[0 0] 1} {[2 0] 1}] [[0 1] [1 1]] []}"},
+		{api.Gens{}, "{0 [{false [] 1}]}"},
+		{api.Gens{Dim: 1, Rays: [][]int{{1}}, Lines: [][]int{{1}}}, "{1 [{false [0] 1}]}"},
+		{api.Gens{Dim: 1, Points: []api.Point{{X: []int{4}, Den: 2}, {X: []int{2}, Den: 1}}}, "{1 [{true [1] 2}]}"},
+		{api.Gens{Dim: 1, Points: []api.Point{{X: []int{4}, Den: 2}, {X: []int{1}, Den: 1}}, Rays: [][]int{{3}, {0}, {1}}}, "{1 [{false [1] 1}]}"},
+		{api.Gens{Dim: 2, Points: []api.Point{{X: []int{1, 5}, Den: 3}}, Rays: [][]int{{2, 0}, {-4, 0}}}, "{2 [{true [0 3] 5}]}"},
+		{api.Gens{Dim: 2, Points: []api.Point{{X: []int{0, 0}, Den: 1}, {X: []int{2, 0}, Den: 1}, {X: []int{1, 0}, Den: 1}, {X: []int{0, 2}, Den: 1}}, Rays: [][]int{{0, 1}, {1, 1}, {1, 2}}}, "{2 [{false [-1 1] -2} {false [0 1] 0} {false [1 0] 0}]}"},
 	} {
-		if got := both(t, OfGens(c.g)); got != c.want {
-			t.Error(c.g, got)
+		if got, err := hullOf(c.g); fmt.Sprint(got) != c.want || err != nil {
+			t.Error(c.g, got, err)
+		}
+	}
+}
+
+// corners on a curve have as many sides.
+func corners(n int) []wide.Row {
+	var l []wide.Row
+	for i := range n {
+		l = append(l, wide.RowOf([]int{i, i * i, 1}))
+	}
+	return l
+}
+
+// As many rows as can be told are told, and one more is an error.
+func TestHullMany(t *testing.T) {
+	up, aside := wide.RowOf([]int{0, 1, 0}), wide.RowOf([]int{1, 1000, 0})
+	for _, c := range []struct {
+		rays []wide.Row
+		want int
+	}{
+		{corners(59), 59},
+		{corners(60), 60},
+		{corners(61), 0},
+		{corners(62), 0},
+		{corners(300), 0},
+		// The side at the top goes, two stand in its place.
+		{append(corners(59), up), 60},
+		{append(corners(60), up), 0},
+		{append(corners(61), up), 0},
+		// Between two rays the endless row bounds the cone of these, and is not told.
+		{append(corners(59), up, aside), 60},
+		{append(corners(60), up, aside), 0},
+		{append(corners(61), up, aside), 0},
+		{append([]wide.Row{aside, up}, corners(59)...), 60},
+		{append([]wide.Row{aside, up}, corners(60)...), 0},
+		{append([]wide.Row{aside, up}, corners(61)...), 0},
+	} {
+		p, err := Hull(2, c.rays, nil)
+		if len(p.Rows) != c.want || (err == nil) != (c.want > 0) || err != nil && err != api.ErrBound {
+			t.Error(len(c.rays), len(p.Rows), err)
 		}
 	}
 }
