@@ -12,7 +12,7 @@ func Reduced(m []Row) []Row {
 			continue
 		}
 		l[done], l[done+at] = l[done+at], l[done]
-		clearColumn(l, done, column, last)
+		ClearColumn(l, done, column, last)
 		last = l[done][column]
 		done++
 	}
@@ -29,9 +29,9 @@ func width(m []Row) int {
 	return len(m[0])
 }
 
-// clearColumn takes the row at out of all others, so that they have 0 in the column.
+// ClearColumn takes the row at out of all others of m, so that they have 0 in the column; last is the pivot of the call ahead, 1 if there was none.
 // All numbers stay minors of the first matrix, so they divide by the last pivot without a rest, and no fraction comes up (BAREISS).
-func clearColumn(m []Row, at, column int, last Num) {
+func ClearColumn(m []Row, at, column int, last Num) {
 	by := m[at]
 	pivot := by[column]
 	for i, r := range m {

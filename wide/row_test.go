@@ -72,6 +72,21 @@ func TestRowNormal(t *testing.T) {
 	}
 }
 
+func TestClearColumn(t *testing.T) {
+	m := RowsOf([][]int{{2, 1, 3}, {4, 5, 1}, {0, 1, 1}})
+	want := [][][]int{{{2, 1, 3}, {0, 6, -10}, {0, 2, 2}}, {{6, 0, 14}, {0, 6, -10}, {0, 0, 16}}}
+	last := From(1)
+	for i, rows := range want {
+		ClearColumn(m, i, i, last)
+		last = m[i][i]
+		for j, row := range m {
+			if got, ok := row.Ints(); !ok || !slices.Equal(got, rows[j]) {
+				t.Error(i, j, got, ok)
+			}
+		}
+	}
+}
+
 // The greatest matrix that can be handed in has minors of some 800 bits.
 func TestReducedGreat(t *testing.T) {
 	r := rand.New(rand.NewSource(3))
