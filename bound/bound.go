@@ -13,6 +13,9 @@ func Great(l ...int) bool {
 	return slices.ContainsFunc(l, func(n int) bool { return wide.From(n).Above(api.MaxEntry) })
 }
 
+// Far tells whether the number is too great for a bound of an interval.
+func Far(n int) bool { return n < -api.MaxBound || n > api.MaxBound }
+
 // Tell a row, if none of its numbers is too great.
 func Tell(r wide.Row) ([]int, error) {
 	if r.Any(func(n wide.Num) bool { return n.Above(api.MaxTold) }) {

@@ -27,6 +27,25 @@ func TestGreat(t *testing.T) {
 	}
 }
 
+func TestFar(t *testing.T) {
+	for _, c := range []struct {
+		n    int
+		want bool
+	}{
+		{0, false},
+		{api.MaxBound, false},
+		{-api.MaxBound, false},
+		{api.MaxBound + 1, true},
+		{-api.MaxBound - 1, true},
+		{math.MaxInt, true},
+		{math.MinInt, true},
+	} {
+		if got := Far(c.n); got != c.want {
+			t.Error(c.n, got)
+		}
+	}
+}
+
 func TestTell(t *testing.T) {
 	most := []int{api.MaxTold, -api.MaxTold, 0}
 	if got, err := Tell(wide.RowOf(most)); !slices.Equal(got, most) || err != nil {
