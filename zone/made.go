@@ -1,0 +1,98 @@
+package zone
+
+import (
+	"raycone/api"
+	"raycone/grid"
+)
+
+// boundsOf a valid zone, as they stand there.
+func boundsOf(z Zone) grid.Grid {
+	size := z.N + 1
+	return grid.Of(size, func(i, j int) int {
+		if c := z.L[i*size+j]; c.Has {
+			return c.Most
+		}
+		return grid.None
+	})
+}
+
+// pointBounds: those that a point, and no other one, reaches everywhere.
+func pointBounds(x []int) grid.Grid {
+	at := func(i int) int {
+		if i == 0 {
+			return 0
+		}
+		return x[i-1]
+	}
+	return grid.Of(len(x)+1, func(i, j int) int { return at(j) - at(i) })
+}
+
+// without what closed bounds say of the variable x.
+func without(g grid.Grid, x int) grid.Grid {
+	return grid.Of(g.Size(), func(i, j int) int {
+		if i != j && (i == x || j == x) {
+			return grid.None
+		}
+		return g.At(i, j)
+	})
+}
+
+// moved: the variable x stands where y stood, and c further. What is closed stays so.
+func moved(g grid.Grid, x, y, c int) grid.Grid {
+	stood := func(i int) (at, further int) {
+		if i == x {
+			return y, c
+		}
+		return i, 0
+	}
+	return grid.Of(g.Size(), func(i, j int) int {
+		from, less := stood(i)
+		to, more := stood(j)
+		return grid.Plus(g.At(from, to), more-less)
+	})
+}
+
+// guarded by one bound more.
+func guarded(g grid.Grid, i, j, c int) grid.Grid {
+	return grid.Of(g.Size(), func(row, column int) int {
+		if row == i && column == j {
+			return min(g.At(i, j), c)
+		}
+		return g.At(row, column)
+	})
+}
+
+// kept: a bound that another one does not go beyond.
+func kept(most, other int) int {
+	if other > most {
+		return grid.None
+	}
+	return most
+}
+
+// span of the variable x in closed bounds.
+func span(g grid.Grid, x int) api.Interval {
+	low, high := cellOf(grid.Told(g.At(x, 0))), cellOf(grid.Told(g.At(0, x)))
+	return api.Interval{Down: !low.Has, Up: !high.Has, Low: -low.Most, High: high.Most}
+}
+
+func cellOf(has bool, most int) Cell { return Cell{Has: has, Most: most} }
+
+// tell bounds as a zone.
+func tell(g grid.Grid) Zone { return Zone{N: g.Size() - 1, L: grid.Cells(g, cellOf)} }
+
+// tellClosed: bounds as a closed zone, if it has points.
+func tellClosed(g grid.Grid) (Zone, bool, error) {
+	if g, some := g.Closed(); some {
+		return tell(g), true, nil
+	}
+	return Zone{}, false, nil
+}
+
+// tellChanged: what a change makes of the closed bounds of z, if it has points.
+func tellChanged(z Zone, change func(g grid.Grid) grid.Grid) (Zone, bool, error) {
+	if g, some := boundsOf(z).Closed(); some {
+		return tell(change(g)), true, nil
+	}
+	return Zone{}, false, nil
+}
