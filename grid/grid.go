@@ -38,6 +38,16 @@ func (g Grid) With(h Grid, made func(x, y int) int) Grid {
 	return Of(g.size, func(i, j int) int { return made(g.At(i, j), h.At(i, j)) })
 }
 
+// Guarded by one bound more.
+func (g Grid) Guarded(i, j, most int) Grid {
+	return Of(g.size, func(row, column int) int {
+		if row == i && column == j {
+			return min(g.At(i, j), most)
+		}
+		return g.At(row, column)
+	})
+}
+
 // Within: is no bound above that of another one of its size?
 func (g Grid) Within(h Grid) bool {
 	for k, most := range g.most {
@@ -61,12 +71,20 @@ func (g Grid) Closed() (Grid, bool) {
 		shortest = shortest.through(k)
 	}
 	// Below 0 comes only of a way that leads back to where it began.
-	for k := range g.size {
-		if shortest.At(k, k) < 0 {
-			return Grid{}, false
-		}
+	if !shortest.Sound() {
+		return Grid{}, false
 	}
 	return shortest, true
+}
+
+// Sound: does no bound say that a number less itself is below 0?
+func (g Grid) Sound() bool {
+	for k := range g.size {
+		if g.At(k, k) < 0 {
+			return false
+		}
+	}
+	return true
 }
 
 // through k, where that way is shorter. A bound at most doubles in size: so there is no overflow, even where a way leads round and round.
@@ -80,6 +98,14 @@ func Plus(x, y int) int {
 		return None
 	}
 	return x + y
+}
+
+// Kept: a bound that another one does not go beyond.
+func Kept(most, other int) int {
+	if other > most {
+		return None
+	}
+	return most
 }
 
 // Told: a bound above MaxBound is none, one below minus MaxBound is just that.
@@ -97,4 +123,11 @@ func Cells[C any](g Grid, cell func(has bool, most int) C) []C {
 		l[k] = cell(Told(most))
 	}
 	return l
+}
+
+// Span of a number: told by the bounds of its opposite, and of itself.
+func Span(below, above int) api.Interval {
+	down, low := Told(below)
+	up, high := Told(above)
+	return api.Interval{Down: !down, Up: !up, Low: -low, High: high}
 }

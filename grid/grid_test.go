@@ -32,6 +32,56 @@ func TestWith(t *testing.T) {
 	}
 }
 
+func TestGuarded(t *testing.T) {
+	g := of(2, 1, 2, None, 4)
+	for _, c := range []struct {
+		i, j, most int
+		want       Grid
+	}{
+		{0, 1, 1, of(2, 1, 1, None, 4)}, {0, 1, 3, g}, {1, 0, 7, of(2, 1, 2, 7, 4)}, {1, 1, -4, of(2, 1, 2, None, -4)}, {1, 0, None, g},
+	} {
+		if got := g.Guarded(c.i, c.j, c.most); !same(got, c.want) || !same(g, of(2, 1, 2, None, 4)) {
+			t.Error(c, got, g)
+		}
+	}
+}
+
+func TestSound(t *testing.T) {
+	for _, c := range []struct {
+		g    Grid
+		want bool
+	}{
+		{Grid{}, true}, {of(1, 0), true}, {of(1, None), true}, {of(1, -1), false}, {of(2, 0, -5, -6, 0), true}, {of(2, 0, 0, 0, -1), false}, {of(2, -1, 0, 0, 3), false},
+	} {
+		if c.g.Sound() != c.want {
+			t.Error(c)
+		}
+	}
+}
+
+func TestKept(t *testing.T) {
+	for _, c := range [][3]int{{3, 3, 3}, {3, 2, 3}, {3, 4, None}, {3, None, None}, {None, 3, None}, {None, None, None}, {-2, -3, -2}, {-3, -2, None}} {
+		if got := Kept(c[0], c[1]); got != c[2] {
+			t.Error(c, got)
+		}
+	}
+}
+
+func TestSpan(t *testing.T) {
+	m := api.MaxBound
+	for _, c := range []struct {
+		below, above int
+		want         api.Interval
+	}{
+		{2, 5, api.Interval{Low: -2, High: 5}}, {-2, 5, api.Interval{Low: 2, High: 5}}, {None, 5, api.Interval{Down: true, High: 5}}, {2, None, api.Interval{Up: true, Low: -2}}, {None, None, api.Interval{Down: true, Up: true}},
+		{m, m, api.Interval{Low: -m, High: m}}, {m + 1, m + 1, api.Interval{Down: true, Up: true}}, {-m - 1, m + 2, api.Interval{Up: true, Low: m}}, {m + 2, -m - 1, api.Interval{Down: true, High: -m}},
+	} {
+		if got := Span(c.below, c.above); got != c.want {
+			t.Error(c, got)
+		}
+	}
+}
+
 func TestWithin(t *testing.T) {
 	g := of(2, 0, 5, None, 0)
 	for _, c := range []struct {

@@ -1,9 +1,6 @@
 package zone
 
-import (
-	"raycone/api"
-	"raycone/grid"
-)
+import "raycone/grid"
 
 // boundsOf a valid zone, as they stand there.
 func boundsOf(z Zone) grid.Grid {
@@ -50,30 +47,6 @@ func moved(g grid.Grid, x, y, c int) grid.Grid {
 		to, more := stood(j)
 		return grid.Plus(g.At(from, to), more-less)
 	})
-}
-
-// guarded by one bound more.
-func guarded(g grid.Grid, i, j, c int) grid.Grid {
-	return grid.Of(g.Size(), func(row, column int) int {
-		if row == i && column == j {
-			return min(g.At(i, j), c)
-		}
-		return g.At(row, column)
-	})
-}
-
-// kept: a bound that another one does not go beyond.
-func kept(most, other int) int {
-	if other > most {
-		return grid.None
-	}
-	return most
-}
-
-// span of the variable x in closed bounds.
-func span(g grid.Grid, x int) api.Interval {
-	low, high := cellOf(grid.Told(g.At(x, 0))), cellOf(grid.Told(g.At(0, x)))
-	return api.Interval{Down: !low.Has, Up: !high.Has, Low: -low.Most, High: high.Most}
 }
 
 func cellOf(has bool, most int) Cell { return Cell{Has: has, Most: most} }

@@ -9,6 +9,7 @@ import (
 	"testing"
 
 	"raycone/api"
+	"raycone/bound"
 )
 
 const (
@@ -479,7 +480,7 @@ func TestWild(t *testing.T) {
 func TestWildPairs(t *testing.T) {
 	for _, a := range wild() {
 		for _, b := range wild() {
-			want := firstOf(Valid(a), Valid(b))
+			want := bound.First(Valid(a), Valid(b))
 			if want == nil && a.N != b.N {
 				want = api.ErrShape
 			}
