@@ -104,14 +104,22 @@ func terms() []Expr {
 
 func hasText(t *testing.T, p Program) {
 	t.Helper()
-	if s, err := Text(p); s == "" || err != nil {
+	if s, err := Text(p); s == "" || err != nil || !Formed(p) {
 		t.Errorf("%.300s: %q %v", told(p), s, err)
 	}
 }
 
 func hasNone(t *testing.T, p Program) {
 	t.Helper()
-	if s, err := Text(p); s != "" || err != api.ErrShape {
+	if s, err := Text(p); s != "" || err != api.ErrShape || Formed(p) {
+		t.Errorf("%.300s: %.300q %v", told(p), s, err)
+	}
+}
+
+// isLong: its text is too long to be read, and else there is nothing wrong.
+func isLong(t *testing.T, p Program) {
+	t.Helper()
+	if s, err := Text(p); s != "" || err != api.ErrShape || !Formed(p) {
 		t.Errorf("%.300s: %.300q %v", told(p), s, err)
 	}
 }
@@ -354,9 +362,32 @@ func TestTextLength(t *testing.T) {
 	if s, err := Text(most); len(s) != api.MaxText || err != nil {
 		t.Error(len(s), err)
 	}
-	hasNone(t, mainOf(append(l, set("xxxxxx", num(1)))...))
-	hasNone(t, Program{Main: most.Main, Vars: []string{"x"}})
-	hasNone(t, mainOf(slices.Repeat(l, 100)...))
+	isLong(t, mainOf(append(l, set("xxxxxx", num(1)))...))
+	isLong(t, Program{Main: most.Main, Vars: []string{"x"}})
+	isLong(t, mainOf(slices.Repeat(l, 100)...))
+	hasNone(t, mainOf(slices.Repeat(l, 1_100)...))
+}
+
+// What is read is formed, and what is wrong is not, however long it is.
+func TestFormed(t *testing.T) {
+	sum := "x" + strings.Repeat("+x", 1990)
+	for _, s := range []string{
+		"main{" + strings.Repeat("x=1;", 998) + "}",
+		"main{x=" + sum + ";}",
+		"proc f(){return " + sum[:3900] + "1;}main{}",
+		"main{" + strings.Repeat("while true{", 11) + strings.Repeat("x=1;", 960) + strings.Repeat("}", 12),
+	} {
+		p, err := Read(s)
+		if err != nil {
+			t.Fatal(err)
+		}
+		isLong(t, p)
+		p.Main = append(p.Main, set("x", num(1)))
+		isLong(t, p)
+		for _, wrong := range []Stmt{{}, set("if", num(1)), set("x", num(-1)), {Kind: "read", Name: "x", Proc: "x"}} {
+			hasNone(t, Program{Procs: p.Procs, Main: append(slices.Clone(p.Main), wrong)})
+		}
+	}
 }
 
 // P1: writing ends, however much there is, also if much of it is one and the same memory.
@@ -364,7 +395,7 @@ func TestTextEnds(t *testing.T) {
 	one := num(1)
 	hasNoneOf := func(p Program) {
 		t.Helper()
-		if s, err := Text(p); s != "" || err != api.ErrShape {
+		if s, err := Text(p); s != "" || err != api.ErrShape || Formed(p) {
 			t.Errorf("%.100q %v", s, err)
 		}
 	}
