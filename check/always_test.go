@@ -254,10 +254,12 @@ func judged(t *testing.T, p lang.Program) error {
 // P110: programs at random, against what their words say.
 func TestCheckRandom(t *testing.T) {
 	r := rand.New(rand.NewSource(1))
-	seen := map[error]int{}
-	for range 8000 {
-		p := maker{Rand: r, wrong: []int{5, 20, 60, 500}[r.Intn(4)]}.program(3, 2)
+	seen, long := map[error]int{}, 0
+	for range 12000 {
+		p := maker{Rand: r, wrong: []int{5, 20, 60, 500}[r.Intn(4)]}.program([]int{3, 3, 3, 3, 3, 24}[r.Intn(6)], 2)
 		if _, err := lang.Text(p); err != nil {
+			answers(t, p, api.ErrShape)
+			long++
 			continue
 		}
 		want := judged(t, p)
@@ -268,6 +270,9 @@ func TestCheckRandom(t *testing.T) {
 		if seen[err] < 50 {
 			t.Errorf("%v: %d", err, seen[err])
 		}
+	}
+	if long < 20 {
+		t.Error(long)
 	}
 }
 
@@ -314,7 +319,7 @@ func stepByStep(p lang.Program) (lang.Program, error) {
 	return q, nil
 }
 
-// P111, P113: what is inlined is what comes step by step; it is right, has no calls, and inlined again is the same, also where its text is too long to be read.
+// P111, P113: what is inlined is what comes step by step; where it has a text, it is right, has no calls, and inlined again is the same.
 func TestInlineRandom(t *testing.T) {
 	r := rand.New(rand.NewSource(2))
 	good, much, long := 0, 0, 0
@@ -324,22 +329,29 @@ func TestInlineRandom(t *testing.T) {
 			continue
 		}
 		q, err := Inline(p)
-		want, none := stepByStep(p)
-		if told(q) != told(want) || err != none {
-			t.Fatalf("%s: %s %v, want %s %v", told(p), told(q), err, told(want), none)
-		}
+		comesStepByStep(t, p, q, err)
 		if err != nil {
 			much++
 			continue
 		}
-		inlinedIsRight(t, q)
 		if _, err := lang.Text(q); err != nil {
+			answers(t, q, api.ErrShape)
 			long++
+			continue
 		}
+		inlinedIsRight(t, q)
 		good++
 	}
-	if good < 1000 || much < 50 || long < 50 {
+	if good < 1000 || much < 20 || long < 50 {
 		t.Error(good, much, long)
+	}
+}
+
+// comesStepByStep: what Inline says of p.
+func comesStepByStep(t *testing.T, p, q lang.Program, err error) {
+	t.Helper()
+	if want, none := stepByStep(p); told(q) != told(want) || err != none {
+		t.Fatalf("%.300s: %.300s %v, want %.300s %v", told(p), told(q), err, told(want), none)
 	}
 }
 
@@ -353,26 +365,25 @@ func inlinedIsRight(t *testing.T, q lang.Program) {
 	}
 }
 
-// P113: also the longest that can come of a text.
+// P111: also the longest that can come of a right program is told, though it has no text, and so is none that is right (P110).
 func TestInlineLong(t *testing.T) {
-	sum := "x" + strings.Repeat("+x", 1600)
-	for _, s := range []string{
-		"var x;proc a(){return " + sum + ";}proc b(){" + strings.Repeat("x=call a();", 7) + "return x;}proc c(){" + strings.Repeat("x=call b();", 6) + "return x;}main{" + strings.Repeat("x=call c();", 7) + "}",
-		"var x;proc a(){x=" + sum + ";return x;}proc b(){" + strings.Repeat("x=call a();", 13) + "return x;}main{" + strings.Repeat("x=call b();", 14) + "}",
-		"var x;proc a(u){if " + sum + "<u{}return u;}proc b(){" + strings.Repeat("x=call a(1);", 9) + "return x;}main{" + strings.Repeat("x=call b();", 14) + "}",
-		"var x;main{" + strings.Repeat("if x<1{x=1;}else{x=x+1;}", 133) + "}",
-		"var x;main{x=1" + strings.Repeat("+1", 1900) + ";}",
-		"var x;main{" + within(strings.Repeat("x=x+1;", 380), 11) + "}",
+	many := strings.Repeat
+	sum := "x" + many("+x", 800)
+	for s, want := range map[string]int{
+		"var x;proc a(){return " + sum + ";}proc b(){" + many("x=call a();", 7) + "return x;}proc c(){" + many("x=call b();", 6) + "return x;}main{" + many("x=call c();", 7) + "}": 343,
+		"var x;proc a(){x=" + sum + ";return x;}proc b(){" + many("x=call a();", 13) + "return x;}main{" + many("x=call b();", 14) + "}":                                            378,
+		"var x;proc a(u){if " + sum + "<u{}return u;}proc b(){" + many("x=call a(1);", 9) + "return x;}main{" + many("x=call b();", 14) + "}":                                       392,
+		"var xxxxxx;proc f(){" + many("xxxxxx=1;", 100) + "return 1;}main{" + many("xxxxxx=call f();", 3) + "}":                                                                     303,
+		"var x;proc f(){" + many("x=1;", 100) + "return 1;}main{" + within("x=call f();x=call f();", 11) + "}":                                                                      215,
 	} {
 		p := read(t, s)
+		text(t, p)
 		q, err := Inline(p)
-		if err != nil || counted(q.Main) > 400 {
-			t.Errorf("%.100q: %d %v", s, counted(q.Main), err)
+		comesStepByStep(t, p, q, err)
+		if counted(q.Main) != want {
+			t.Errorf("%.100q: %d, want %d", s, counted(q.Main), want)
 		}
-		inlinedIsRight(t, q)
-		if l, err := Used(q); fmt.Sprint(l) != fmt.Sprint(slices.Sorted(slices.Values(q.Vars))) || err != nil {
-			t.Errorf("%.100q: %v %v", s, l, err)
-		}
+		answers(t, q, api.ErrShape)
 	}
 }
 
@@ -538,21 +549,5 @@ func TestEnds(t *testing.T) {
 		if l, err := Used(p); err != api.ErrShape || len(l) > 0 {
 			t.Error(l, err)
 		}
-	}
-}
-
-// P1, P113: statements that no text has room for are not taken apart, or not told.
-func TestTooLongForAnyText(t *testing.T) {
-	sum := lang.Expr{Op: "num", N: 1}
-	for range 1500 {
-		sum = lang.Expr{Op: "+", L: []lang.Expr{sum, {Op: "num", N: api.MaxValue}}}
-	}
-	p := read(t, "var x;proc a(){return 1;}proc b(){"+strings.Repeat("x=call a();", 15)+"return x;}main{"+strings.Repeat("x=call b();", 20)+"}")
-	p.Procs[0].Return = sum
-	if err := Check(p); err != nil {
-		t.Fatal(err)
-	}
-	if q, err := Inline(p); err != api.ErrBound || told(q) != told(lang.Program{}) {
-		t.Error(err)
 	}
 }

@@ -87,6 +87,50 @@ func TestCheckShape(t *testing.T) {
 	answers(t, lang.Program{Vars: []string{}, Arrays: []lang.Array{}, Procs: []lang.Proc{}, Main: []lang.Stmt{}}, nil)
 }
 
+// P110: a program whose text would have more than MaxText bytes has none, also if it was read from a shorter one, and whatever else is wrong.
+func TestCheckLong(t *testing.T) {
+	many := strings.Repeat
+	for _, s := range []string{
+		"var x;main{" + many("x=1;", 450) + "}",
+		"var x;main{" + many("x=1;", 995) + "}",
+		"var x;proc f(){return 1;}main{x=call f();" + many("x=1;", 500) + "}",
+		"var x;proc f(){" + many("x=1;", 500) + "return 1;}main{}",
+		"var x;proc f(){return x" + many("+x", 1000) + ";}main{x=call f();}",
+		"var x;main{x=1" + many("+1", 1900) + ";}",
+		"var x;main{assert x<1" + many(" or x<1", 500) + ";}",
+		"var x;main{" + many("if x<1{x=1;}else{x=x+1;}", 133) + "}",
+		"var x;main{" + within(many("x=x+1;", 380), 11) + "}",
+		declared("var %s;", "x", 450) + "main{}",
+		declared("proc %s(){return 1;}", "f", 160) + "main{}",
+		"array a[17];main{" + many("x=1;", 450) + "}",
+		"var x;var x;main{" + many("x=1;", 450) + "}",
+		"var x;main{" + many("y=1;", 450) + "}",
+		"var x;proc f(){return 1;}main{" + many("x=call f(1);", 300) + "}",
+	} {
+		p := read(t, s)
+		answers(t, p, api.ErrShape)
+		p.Vars = append(p.Vars, "x")
+		p.Main = append(p.Main, lang.Stmt{Kind: "read", Name: "y"})
+		answers(t, p, api.ErrShape)
+	}
+	x := lang.Stmt{Kind: "read", Name: "x"}
+	answers(t, lang.Program{Vars: []string{"x"}, Main: slices.Repeat([]lang.Stmt{x}, 100_000)}, api.ErrShape)
+}
+
+// P110: a text of just MaxText bytes is one.
+func TestCheckLongest(t *testing.T) {
+	p := read(t, "var xxxxxx;main{"+strings.Repeat("xxxxxx=1;", 283)+"xxxxxx=1234;}")
+	if n := len(text(t, p)); n != api.MaxText {
+		t.Fatal(n)
+	}
+	answers(t, p, nil)
+	if q, err := Inline(p); told(q) != told(p) || err != nil {
+		t.Errorf("%.300s %v", told(q), err)
+	}
+	p.Main[0].Args[0].N = 10
+	answers(t, p, api.ErrShape)
+}
+
 // P110: how much a program may have.
 func TestCheckBound(t *testing.T) {
 	for s, want := range map[string]error{

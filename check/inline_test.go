@@ -36,35 +36,49 @@ func TestInline(t *testing.T) {
 	}
 }
 
-// P111: how many statements may come, in all.
+// P111: how many statements may come, in all: just written down, if there is a text with so many, or made by calls.
 func TestInlineMany(t *testing.T) {
-	many := strings.Repeat
+	plain := func(many int) string { return strings.Repeat("x=1;", many) }
+	byCalls := func(many int) string { return strings.Repeat("x=call k();", many/20) + plain(many%20) }
 	for s, want := range map[string]int{
-		"var x;main{%s}":                                                           0,
-		"var x;main{while true{%s}}":                                               1,
-		"var x;main{if true{x=1;}else{%s}}":                                        2,
-		"var x;main{if true{%s}else{if true{}}}":                                   2,
-		"var x;proc f(){return 1;}main{%s}":                                        0,
-		"var x;proc f(){%s return 1;}main{}":                                       -1,
-		"var x;proc f(){%s return 1;}main{x=call f();}":                            1,
-		"var x;proc f(y,z){%s return 1;}main{x=call f(1,2);}":                      3,
-		"var x;proc f(){x=1;if true{x=1;}return 1;}main{x=call f();x=call f();%s}": 8,
-		"var x;proc f(u){x=1;return 1;}proc g(v){x=call f(1);x=call f(2);%s return 3;}main{x=call g(1);}":         8,
-		"var x;proc f(u){x=1;return 1;}proc g(v){x=call f(1);x=call f(2);return 3;}main{%s x=call g(1);}":         8,
-		"var x;proc f(u){x=1;return 1;}proc g(v){while true{x=call f(1);}return 3;}main{if true{x=call g(1);%s}}": 7,
+		"main{%s}":                                                           0,
+		"main{while true{%s}}":                                               1,
+		"main{if true{x=1;}else{%s}}":                                        2,
+		"main{if true{%s}else{if true{}}}":                                   2,
+		"proc f(){return 1;}main{%s}":                                        0,
+		"proc f(){%s return 1;}main{}":                                       -1,
+		"proc f(){%s return 1;}main{x=call f();}":                            1,
+		"proc f(y,z){%s return 1;}main{x=call f(1,2);}":                      3,
+		"proc f(){x=1;if true{x=1;}return 1;}main{x=call f();x=call f();%s}": 8,
+		"proc f(u){x=1;return 1;}proc g(v){x=call f(1);x=call f(2);%s return 3;}main{x=call g(1);}":         8,
+		"proc f(u){x=1;return 1;}proc g(v){x=call f(1);x=call f(2);return 3;}main{%s x=call g(1);}":         8,
+		"proc f(u){x=1;return 1;}proc g(v){while true{x=call f(1);}return 3;}main{if true{x=call g(1);%s}}": 7,
 	} {
 		for _, all := range []int{399, 400, 401, 402} {
-			p := read(t, fmt.Sprintf(s, many("x=1;", all-max(want, 0))))
-			q, err := Inline(p)
-			switch {
-			case want < 0 && (err != nil || len(q.Main) > 0):
-				t.Errorf("%q, %d: %v", s, all, err)
-			case want >= 0 && all <= 400 && (err != nil || counted(q.Main) != all):
-				t.Errorf("%q, %d: %d %v", s, all, counted(q.Main), err)
-			case want >= 0 && all > 400 && (err != api.ErrBound || told(q) != told(lang.Program{})):
-				t.Errorf("%q, %d: %v", s, all, err)
+			comes := all
+			if want < 0 {
+				comes = 0
+			}
+			hasMany(t, "var x;proc k(){"+plain(19)+"return 1;}"+fmt.Sprintf(s, byCalls(all-max(want, 0))), comes)
+			// In a block, so many with their blanks ahead of them have no text.
+			if !strings.Contains(s, "true") {
+				hasMany(t, "var x;"+fmt.Sprintf(s, plain(all-max(want, 0))), comes)
 			}
 		}
+	}
+}
+
+// hasMany statements when its calls are gone, or is too much.
+func hasMany(t *testing.T, s string, want int) {
+	t.Helper()
+	p := read(t, s)
+	text(t, p)
+	q, err := Inline(p)
+	switch {
+	case want <= 400 && (err != nil || counted(q.Main) != want):
+		t.Errorf("%.300q: %d %v, want %d", s, counted(q.Main), err, want)
+	case want > 400 && (err != api.ErrBound || told(q) != told(lang.Program{})):
+		t.Errorf("%.300q: %v", s, err)
 	}
 }
 
@@ -117,8 +131,24 @@ func TestInlineDeep(t *testing.T) {
 	}
 }
 
-// P1, P111, P112: that it is too much is told soon, and what is used: there are 2^64 statements, more than could ever be laid out, or counted.
+// P1, P111, P112: that it is too much is told soon, and what is used: there are some 10^9 statements.
 func TestInlineTooMuch(t *testing.T) {
+	s := "var x;proc a(){return x;}"
+	for _, pair := range strings.Fields("ba cb dc ed fe") {
+		s += "proc " + pair[:1] + "(){" + strings.Repeat("x=call "+pair[1:]+"();", 36) + "return x;}"
+	}
+	p := read(t, s+"main{"+strings.Repeat("x=call f();", 36)+"}")
+	answers(t, p, nil)
+	if q, err := Inline(p); err != api.ErrBound || told(q) != told(lang.Program{}) {
+		t.Error(err)
+	}
+	if l, err := Used(p); !slices.Equal(l, []string{"x"}) || err != nil {
+		t.Error(l, err)
+	}
+}
+
+// P1, P110: that there is no text is told soon, also of 2^64 statements, more than could ever be laid out, or counted.
+func TestInlineNoText(t *testing.T) {
 	p := lang.Program{Vars: []string{"x"}}
 	calls := func(name string, many int) []lang.Stmt {
 		return slices.Repeat([]lang.Stmt{{Kind: "call", Name: "x", Proc: name}}, many)
@@ -131,12 +161,7 @@ func TestInlineTooMuch(t *testing.T) {
 		p.Procs = append(p.Procs, lang.Proc{Name: name, Body: body, Return: lang.Expr{Op: "var", Name: "x"}})
 	}
 	p.Main = calls("f", 1<<4)
-	if q, err := Inline(p); err != api.ErrBound || told(q) != told(lang.Program{}) {
-		t.Error(err)
-	}
-	if l, err := Used(p); !slices.Equal(l, []string{"x"}) || err != nil {
-		t.Error(l, err)
-	}
+	answers(t, p, api.ErrShape)
 }
 
 // P112: names that are used.

@@ -104,22 +104,14 @@ func terms() []Expr {
 
 func hasText(t *testing.T, p Program) {
 	t.Helper()
-	if s, err := Text(p); s == "" || err != nil || !Formed(p) {
+	if s, err := Text(p); s == "" || err != nil {
 		t.Errorf("%.300s: %q %v", told(p), s, err)
 	}
 }
 
 func hasNone(t *testing.T, p Program) {
 	t.Helper()
-	if s, err := Text(p); s != "" || err != api.ErrShape || Formed(p) {
-		t.Errorf("%.300s: %.300q %v", told(p), s, err)
-	}
-}
-
-// isLong: its text is too long to be read, and else there is nothing wrong.
-func isLong(t *testing.T, p Program) {
-	t.Helper()
-	if s, err := Text(p); s != "" || err != api.ErrShape || !Formed(p) {
+	if s, err := Text(p); s != "" || err != api.ErrShape {
 		t.Errorf("%.300s: %.300q %v", told(p), s, err)
 	}
 }
@@ -362,31 +354,21 @@ func TestTextLength(t *testing.T) {
 	if s, err := Text(most); len(s) != api.MaxText || err != nil {
 		t.Error(len(s), err)
 	}
-	isLong(t, mainOf(append(l, set("xxxxxx", num(1)))...))
-	isLong(t, Program{Main: most.Main, Vars: []string{"x"}})
-	isLong(t, mainOf(slices.Repeat(l, 100)...))
-	hasNone(t, mainOf(slices.Repeat(l, 1_100)...))
-}
-
-// What is read is formed, and what is wrong is not, however long it is.
-func TestFormed(t *testing.T) {
-	sum := "x" + strings.Repeat("+x", 1990)
+	hasNone(t, mainOf(append(l, set("xxxxxx", num(1)))...))
+	hasNone(t, Program{Main: most.Main, Vars: []string{"x"}})
+	hasNone(t, mainOf(slices.Repeat(l, 100)...))
+	// What has been read may have no text: there is more between its words.
 	for _, s := range []string{
 		"main{" + strings.Repeat("x=1;", 998) + "}",
-		"main{x=" + sum + ";}",
-		"proc f(){return " + sum[:3900] + "1;}main{}",
+		"main{x=x" + strings.Repeat("+x", 1990) + ";}",
+		"proc f(){return x" + strings.Repeat("+x", 1900) + ";}main{}",
 		"main{" + strings.Repeat("while true{", 11) + strings.Repeat("x=1;", 960) + strings.Repeat("}", 12),
 	} {
 		p, err := Read(s)
 		if err != nil {
 			t.Fatal(err)
 		}
-		isLong(t, p)
-		p.Main = append(p.Main, set("x", num(1)))
-		isLong(t, p)
-		for _, wrong := range []Stmt{{}, set("if", num(1)), set("x", num(-1)), {Kind: "read", Name: "x", Proc: "x"}} {
-			hasNone(t, Program{Procs: p.Procs, Main: append(slices.Clone(p.Main), wrong)})
-		}
+		hasNone(t, p)
 	}
 }
 
@@ -395,7 +377,7 @@ func TestTextEnds(t *testing.T) {
 	one := num(1)
 	hasNoneOf := func(p Program) {
 		t.Helper()
-		if s, err := Text(p); s != "" || err != api.ErrShape || Formed(p) {
+		if s, err := Text(p); s != "" || err != api.ErrShape {
 			t.Errorf("%.100q %v", s, err)
 		}
 	}

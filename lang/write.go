@@ -7,36 +7,32 @@ import (
 	"raycone/api"
 )
 
-// maxFormed bytes are more than those of 400 statements, each as long as a text may be, and as long again by its blanks: as many as may be left of a program when its calls are gone.
-const maxFormed = 1 << 22
-
 // writer of a text: that there is none is thrown.
 type writer struct {
 	strings.Builder
 	roles roles
-	most  int // bytes
-	terms int // of the statement that is being written
+	terms int
 }
 
 // noText is what a writer throws.
 type noText struct{}
 
-// writeUpTo so many bytes: the text of a program, as far as it can be written; what it is read as is not looked at.
-func writeUpTo(most int, p Program) (s string, ok bool) {
+// textOf a program, as far as it can be written: what it is read as is not looked at.
+func textOf(p Program) (s string, ok bool) {
 	defer func() {
 		if _, thrown := recover().(noText); thrown {
 			s, ok = "", false
 		}
 	}()
-	w := &writer{roles: wordRoles(), most: most}
+	w := &writer{roles: wordRoles()}
 	w.program(p)
 	return w.String(), true
 }
 
-// put texts one behind the other, as long as there is room: however much a program holds, its writing ends.
+// put texts one behind the other. None is written that would be too long to be read: however much a program holds, its writing ends.
 func (w *writer) put(texts ...string) {
 	for _, s := range texts {
-		if len(s) > w.most-w.Len() {
+		if len(s) > api.MaxText-w.Len() {
 			panic(noText{})
 		}
 		w.WriteString(s)
@@ -82,7 +78,6 @@ func (w *writer) procedure(p Proc) {
 	w.statements(p.Body, 1)
 	w.indent(1)
 	w.put("return ")
-	w.terms = 0
 	w.term(p.Return, sumSign)
 	w.put(";\n}\n")
 }
@@ -95,7 +90,6 @@ func (w *writer) statements(l []Stmt, blocks int) {
 }
 
 func (w *writer) statement(s Stmt, blocks int) {
-	w.terms = 0
 	switch s.Kind {
 	case "set":
 		w.put(s.Name, " = ")
@@ -191,7 +185,7 @@ func (w *writer) pair(e Expr, sign role) {
 	w.term(pick(e.L, 1), sign+1)
 }
 
-// count a term: each has a byte at least, which may come late, behind many that are begun ahead of it; and no statement that is read has more of them than a text has bytes.
+// count a term: each has a byte at least, which may come late, behind many that are begun ahead of it.
 func (w *writer) count() {
 	w.terms++
 	if w.terms > api.MaxText {
