@@ -3,6 +3,7 @@ package check
 import (
 	"slices"
 
+	"raycone/fresh"
 	"raycone/lang"
 )
 
@@ -61,7 +62,7 @@ func laidOut(l []lang.Stmt, procs map[string]lang.Proc) []lang.Stmt {
 			out = append(out, laidOutCall(s, procs)...)
 			continue
 		}
-		s.Args, s.Cond = newTerms(s.Args), newCond(s.Cond)
+		s.Args, s.Cond = fresh.Terms(s.Args), fresh.Cond(s.Cond)
 		s.Body, s.Else = laidOut(s.Body, procs), laidOut(s.Else, procs)
 		out = append(out, s)
 	}
@@ -71,7 +72,7 @@ func laidOut(l []lang.Stmt, procs map[string]lang.Proc) []lang.Stmt {
 func laidOutCall(s lang.Stmt, procs map[string]lang.Proc) []lang.Stmt {
 	var out []lang.Stmt
 	set := func(name string, to lang.Expr) {
-		out = append(out, lang.Stmt{Kind: "set", Name: name, Args: newTerms([]lang.Expr{to})})
+		out = append(out, lang.Stmt{Kind: "set", Name: name, Args: fresh.Terms([]lang.Expr{to})})
 	}
 	c := procs[s.Proc]
 	for i, name := range c.Params {
@@ -80,25 +81,4 @@ func laidOutCall(s lang.Stmt, procs map[string]lang.Proc) []lang.Stmt {
 	out = append(out, laidOut(c.Body, procs)...)
 	set(s.Name, c.Return)
 	return out
-}
-
-// newTerms: the same, in new memory.
-func newTerms(l []lang.Expr) []lang.Expr {
-	l = slices.Clone(l)
-	for i := range l {
-		l[i].L = newTerms(l[i].L)
-	}
-	return l
-}
-
-// newCond: the same, in new memory.
-func newCond(c lang.Cond) lang.Cond {
-	c = slices.Clone(c)
-	for i, row := range c {
-		c[i] = slices.Clone(row)
-		for j := range c[i] {
-			c[i][j].A.L, c[i][j].B.L = newTerms(row[j].A.L), newTerms(row[j].B.L)
-		}
-	}
-	return c
 }

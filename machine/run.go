@@ -31,9 +31,27 @@ func newRun(p lang.Program, input []int, fuel int) *run {
 	return r
 }
 
-// end of that kind, as everything is by now.
-func (r *run) end(p lang.Program, kind string) End {
-	e := End{Kind: kind, Steps: r.steps}
+// begin with these values, if they are as many as there are variables, arrays and places.
+func (r *run) begin(p lang.Program, vars []int, arrays [][]int) bool {
+	if len(vars) != len(p.Vars) || len(arrays) != len(p.Arrays) {
+		return false
+	}
+	for i, name := range p.Vars {
+		r.vars[name] = vars[i]
+	}
+	for i, a := range p.Arrays {
+		if len(arrays[i]) != a.Size {
+			return false
+		}
+		copy(r.arrays[a.Name], arrays[i])
+	}
+	return true
+}
+
+// end of main, and as everything is by then.
+func (r *run) end(p lang.Program) End {
+	e := End{Kind: r.ending(p.Main)}
+	e.Steps = r.steps
 	for _, name := range p.Vars {
 		e.Vars = append(e.Vars, r.vars[name])
 	}

@@ -17,10 +17,10 @@ func (r *run) term(e lang.Expr) int {
 	case "num":
 		return e.N
 	case "var":
-		return r.vars[e.Name]
+		return value(r.vars[e.Name])
 	case "at":
 		l := r.arrays[e.Name]
-		return l[r.place(e.L[0], len(l))]
+		return value(l[r.place(e.L[0], len(l))])
 	case "neg":
 		return -r.term(e.L[0])
 	}
@@ -55,6 +55,7 @@ func joined(a int, sign string, b int) int {
 	return a % b
 }
 
+// value that a term may come to.
 func value(n int) int {
 	orWrong(!tooGreat(n))
 	return n
