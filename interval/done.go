@@ -2,6 +2,23 @@ package interval
 
 import "raycone/api"
 
+// bySign: what is done with two.
+func bySign(sign string) (done func(a, b ends) ends, ok bool) {
+	switch sign {
+	case "+":
+		return sums, true
+	case "-":
+		return differences, true
+	case "*":
+		return products, true
+	case "/":
+		return quotients, true
+	case "%":
+		return remainders, true
+	}
+	return nil, false
+}
+
 // sum of two that are not far on opposite sides.
 func sum(x, y int) int {
 	switch {
@@ -49,6 +66,8 @@ func corners(a, b ends, made func(x, y int) int) ends {
 }
 
 func sums(a, b ends) ends { return ends{sum(a[0], b[0]), sum(a[1], b[1])} }
+
+func differences(a, b ends) ends { return sums(a, b.opposite()) }
 
 func products(a, b ends) ends { return corners(a, b, product) }
 
