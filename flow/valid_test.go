@@ -90,6 +90,9 @@ func TestValidActs(t *testing.T) {
 		if err := Valid(g); (err == nil) != c.is || err != nil && err != api.ErrShape {
 			t.Errorf("%s: %v", told(c.a), err)
 		}
+		if Takes(g, c.a) != c.is || Takes(Graph{Vars: g.Vars, Arrays: g.Arrays}, c.a) != c.is || Takes(Graph{Vars: []string{"x", "x"}, Arrays: g.Arrays}, c.a) {
+			t.Errorf("%s: %v", told(c.a), Takes(g, c.a))
+		}
 		// A wrong act is told wherever it stands, and ahead of all else.
 		g.Edges = slices.Concat(skips(3), g.Edges, skips(1))
 		if err := Valid(g); (err == nil) != c.is {

@@ -107,13 +107,10 @@ func moved(g grid.Grid, x, sign, y, c int) grid.Grid {
 	})
 }
 
-// guarded: a times x, and b times y, are at most c together.
-func guarded(g grid.Grid, a, x, b, y, c int) grid.Grid {
-	from, to := index(-b, y), index(a, x)
+// guarded by a limit of one variable or two.
+func guarded(g grid.Grid, m Limit) grid.Grid {
+	from, to, c := index(-m.B, m.Y), index(m.A, m.X), m.C
 	switch {
-	// That 0 is at most c is said of any number less itself.
-	case from == nothing && to == nothing:
-		from, to = index(1, x), index(1, x)
 	// What is said of one number is said of it less its opposite, twice.
 	case from == nothing:
 		from, c = opposite(to), 2*c

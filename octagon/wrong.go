@@ -1,9 +1,14 @@
 package octagon
 
 import (
+	"slices"
+
 	"raycone/api"
 	"raycone/bound"
 )
+
+// farthest that a limit may be: so that no sum of bounds on the way is too great for an int.
+const farthest = 4 * api.MaxBound
 
 // coherent: is each cell the one that says the same of the opposites?
 func coherent(o Octagon) bool {
@@ -53,4 +58,30 @@ func sameError(x, y int) error {
 		return api.ErrShape
 	}
 	return nil
+}
+
+// limitsError: what is wrong with limits: shapes are told ahead of what is too great.
+func limitsError(o Octagon, l []Limit) error {
+	for _, m := range l {
+		if !m.fits(o) {
+			return api.ErrShape
+		}
+	}
+	if slices.ContainsFunc(l, func(m Limit) bool { return m.C < -farthest || m.C > farthest }) {
+		return api.ErrBound
+	}
+	return nil
+}
+
+// fits an octagon: the signs are such, and the variables, unlike where there are two, are its own.
+func (m Limit) fits(o Octagon) bool {
+	switch {
+	case signError(m.A, m.B) != nil:
+	case m.A != 0 && variableError(o, m.X) != nil:
+	case m.B != 0 && variableError(o, m.Y) != nil:
+	case m.A != 0 && m.B != 0 && m.X == m.Y:
+	default:
+		return true
+	}
+	return false
 }

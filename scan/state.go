@@ -15,12 +15,6 @@ func isState(g flow.Graph, s State) bool {
 	return flow.Valid(g) == nil && s.fits(g) && s.wrong() == nil
 }
 
-// hasAct: it is one of those that the graph may have.
-func hasAct(g flow.Graph, a flow.Act) bool {
-	g.Points, g.Heads, g.Edges = 1, nil, []flow.Edge{{Act: a}}
-	return flow.Valid(g) == nil
-}
-
 // hasTerm: it has a text, and all its names are of the graph.
 func hasTerm(g flow.Graph, e lang.Expr) bool {
 	// The shortest statement that has a term of its own: whatever its name, it counts for the text alone.
