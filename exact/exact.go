@@ -71,6 +71,21 @@ func Hull(dim int, rays, lines []wide.Row) (api.Poly, error) {
 	return tell(dim, withoutEndless(up), even)
 }
 
+// Made of points, rays and lines: the least polyhedron of dim numbers that has them; false: it has more than most rows.
+func Made(dim int, rays, lines []wide.Row, most int) (Poly, bool) {
+	if !slices.ContainsFunc(rays, isPoint) {
+		return nothing(dim), true
+	}
+	// One more may be the endless one.
+	up, even := dual.FewGenerators(dim+1, rays, lines, most+1)
+	told := withoutEndless(slices.Clone(up))
+	if len(told)+len(even) > most {
+		return Poly{}, false
+	}
+	rays, lines = dual.Form(rays, lines, up)
+	return Poly{dim, told, even, rays, lines}, true
+}
+
 // nothing at all: its one row holds nowhere.
 func nothing(dim int) Poly {
 	return Poly{Dim: dim, Up: []wide.Row{behind(make([]int, dim), -1)}}

@@ -116,6 +116,51 @@ func TestHullMany(t *testing.T) {
 	}
 }
 
+// Made of needless generators, too, a polyhedron has both its forms, if it has not too many rows.
+func TestMade(t *testing.T) {
+	r := rand.New(rand.NewSource(2))
+	some := func(most, dim int) [][]int {
+		l := make([][]int, r.Intn(most))
+		for i := range l {
+			for range dim {
+				l[i] = append(l[i], r.Intn(7)-3)
+			}
+		}
+		return l
+	}
+	for range 1500 {
+		g := api.Gens{Dim: r.Intn(5)}
+		for _, x := range some(8, g.Dim) {
+			g.Points = append(g.Points, api.Point{X: x, Den: 1 + r.Intn(3)})
+		}
+		g.Rays, g.Lines = some(3, g.Dim), some(2, g.Dim)
+		rows, err := hullOf(g)
+		if err != nil {
+			t.Fatal(g, err)
+		}
+		rays, lines := Makers(g)
+		given := fmt.Sprint(rays, lines)
+		for _, most := range []int{len(rows.Rows) - 1, len(rows.Rows), api.MaxMany} {
+			p, ok := Made(g.Dim, rays, lines, most)
+			// Nothing at all is told whatever is the most.
+			if want := most >= len(rows.Rows) || len(g.Points) == 0; ok != want {
+				t.Fatal(g, most, ok)
+			}
+			if ok && both(t, p) != both(t, Of(rows)) {
+				t.Fatal(g, both(t, p), both(t, Of(rows)))
+			}
+		}
+		if now := fmt.Sprint(rays, lines); now != given {
+			t.Fatal(given, now)
+		}
+	}
+	for many, want := range map[int]bool{59: true, 60: true, 61: false, 200: false} {
+		if p, ok := Made(2, corners(many), nil, 60); ok != want || ok && len(p.Up) != many {
+			t.Error(many, ok, len(p.Up))
+		}
+	}
+}
+
 func TestHolds(t *testing.T) {
 	strip := Of(api.Poly{Dim: 2, Rows: []api.Row{least(1, 1, 0), least(-2, -1, 0)}})
 	quarter := Of(api.Poly{Dim: 2, Rows: []api.Row{least(1, 1, 0), least(0, 0, 1)}})

@@ -30,6 +30,27 @@ func (g Graph) hasPoint(at int) bool { return at >= 0 && at < g.Points }
 // takes an act: it has just the fields of its kind, and its statement is right.
 func (g Graph) takes(a Act) bool { return a.hasItsFields() && check.Check(g.program(a)) == nil }
 
+// knows the names of a term. Of parts no more than left are looked at: no text has as many as it has bytes.
+func (g Graph) knows(e lang.Expr, left *int) bool {
+	*left--
+	hasName := func(a lang.Array) bool { return a.Name == e.Name }
+	switch {
+	case e.Op == "var" && !slices.Contains(g.Vars, e.Name):
+		return false
+	case e.Op == "at" && !slices.ContainsFunc(g.Arrays, hasName):
+		return false
+	}
+	for _, part := range e.L {
+		if *left <= 0 {
+			break
+		}
+		if !g.knows(part, left) {
+			return false
+		}
+	}
+	return true
+}
+
 // hasItsFields: those that its kind does not name are zero.
 func (a Act) hasItsFields() bool {
 	name, args, tests := a.Name != "", len(a.Args) > 0, len(a.Tests) > 0

@@ -202,3 +202,51 @@ func TestGraphIsOnlyRead(t *testing.T) {
 		t.Error(after)
 	}
 }
+
+// A choice: so many variables of a graph, rising.
+func TestChosen(t *testing.T) {
+	g := Graph{Vars: []string{"x", "y", "z"}, Points: 1}
+	for _, c := range []struct {
+		choice []int
+		most   int
+		is     bool
+	}{
+		{nil, 0, true}, {[]int{}, 3, true}, {[]int{0}, 1, true}, {[]int{2}, 1, true}, {[]int{0, 2}, 2, true}, {[]int{0, 1, 2}, 3, true}, {[]int{0, 1, 2}, 2, false}, {[]int{0}, 0, false}, {[]int{1, 0}, 3, false}, {[]int{1, 1}, 3, false}, {[]int{-1}, 3, false}, {[]int{3}, 3, false}, {[]int{0, 3}, 3, false}, {[]int{math.MinInt}, 3, false}, {[]int{math.MaxInt}, 3, false},
+	} {
+		if Chosen(g, c.choice, c.most) != c.is {
+			t.Error(c)
+		}
+	}
+	if Chosen(Graph{Points: 1}, []int{0}, 3) {
+		t.Error("of no variables")
+	}
+}
+
+// Names of terms, as what they are used; also of terms that no text has, and that have no end.
+func TestKnows(t *testing.T) {
+	g := holding(Act{Kind: "skip"})
+	x, z := variable("x"), variable("z")
+	of := func(op string, l ...lang.Expr) lang.Expr { return lang.Expr{Op: op, L: l} }
+	shared, wrong := x, of("-", x, z)
+	for range 100 {
+		shared, wrong = of("+", shared, shared), of("+", wrong, x)
+	}
+	for i, c := range []struct {
+		e  lang.Expr
+		is bool
+	}{
+		{x, true}, {variable("y"), true}, {z, false}, {variable("a"), false}, {variable(""), false}, {num(3), true}, {lang.Expr{}, true}, {lang.Expr{Op: "at", Name: "a", L: []lang.Expr{x}}, true}, {lang.Expr{Op: "at", Name: "a"}, true}, {lang.Expr{Op: "at", Name: "x", L: []lang.Expr{x}}, false}, {lang.Expr{Op: "at", Name: "a", L: []lang.Expr{z}}, false}, {lang.Expr{Op: "num", Name: "z"}, true}, {of("+", x, x), true}, {of("+", x, z), false}, {of("+", z, x), false}, {of("neg", of("*", x, of("neg", z))), false}, {of("?", z), false}, {shared, true}, {wrong, false}, {of("neg", slices.Repeat([]lang.Expr{shared}, 9000)...), true},
+	} {
+		if Knows(g, c.e) != c.is {
+			t.Error(i, c.is)
+		}
+	}
+	// As many parts as a text can have.
+	long := z
+	for range 1999 {
+		long = of("+", long, x)
+	}
+	if Knows(g, long) {
+		t.Error("long")
+	}
+}

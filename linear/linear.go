@@ -4,6 +4,7 @@ package linear
 import (
 	"slices"
 
+	"raycone/api"
 	"raycone/lang"
 )
 
@@ -13,8 +14,33 @@ type Sum struct {
 	More  int   // what is added
 }
 
-// Of a term, which has a text: the sum that it is of these variables. False: it is none, or a number on the way is above most in size. Most is at most MaxBound: so nothing wraps round.
-func Of(e lang.Expr, vars []string, most int) (Sum, bool) { return reader{vars, most}.sum(e) }
+// Of a term: the sum that it is of these variables. False: it is none, or a number on the way is above most in size, or it has more parts than any text has bytes. Most is at most MaxBound: so nothing wraps round.
+func Of(e lang.Expr, vars []string, most int) (Sum, bool) {
+	left := api.MaxText
+	if !isMade(e, &left) {
+		return Sum{}, false
+	}
+	return reader{vars, most}.sum(e)
+}
+
+// isMade of what sums are made of, each with its fields and no others, and of no more parts than are left.
+func isMade(e lang.Expr, left *int) bool {
+	parts := 0
+	switch e.Op {
+	case "num", "var":
+	case "neg":
+		parts = 1
+	case "+", "-", "*":
+		parts = 2
+	default:
+		return false
+	}
+	*left--
+	if *left < 0 || len(e.L) != parts || e.Op != "num" && e.N != 0 || e.Op != "var" && e.Name != "" {
+		return false
+	}
+	return !slices.ContainsFunc(e.L, func(part lang.Expr) bool { return !isMade(part, left) })
+}
 
 // Less another one of the same variables.
 func (s Sum) Less(other Sum) Sum {

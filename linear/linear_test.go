@@ -163,3 +163,28 @@ func TestOfAlways(t *testing.T) {
 		t.Error(sums)
 	}
 }
+
+// What is no term is no sum, nor is what has too many parts.
+func TestOfNoTerm(t *testing.T) {
+	x := lang.Expr{Op: "var", Name: "x"}
+	of := func(op string, l ...lang.Expr) lang.Expr { return lang.Expr{Op: op, L: l} }
+	shared := x
+	for range 100 {
+		shared = of("-", shared, shared)
+	}
+	wide := of("neg", slices.Repeat([]lang.Expr{shared}, 9000)...)
+	for i, e := range []lang.Expr{{}, shared, wide, of("+", shared, wide), of("*", of("num"), shared), of("?", x), of("neg"), of("neg", x, x), of("+", x), of("-", x, x, x), of("*"), of("num", x), {Op: "num", Name: "x"}, {Op: "var", Name: "x", N: 1}, {Op: "var", Name: "x", L: []lang.Expr{x}}, {Op: "neg", N: 1, L: []lang.Expr{x}}, {Op: "+", Name: "x", L: []lang.Expr{x, x}}, of("neg", of("+", x)), of("*", lang.Expr{Op: "num", N: 2}, of("?"))} {
+		if got := said(Of(e, []string{"x"}, most)); got != "none" {
+			t.Error(i, got)
+		}
+	}
+	for many, want := range map[int]string{1: "1 0", 1000: "1000 0", 2000: "2000 0", 2001: "none", 100_000: "none"} {
+		long := x
+		for range many - 1 {
+			long = of("+", long, x)
+		}
+		if got := said(Of(long, []string{"x"}, most)); got != want {
+			t.Error(many, got)
+		}
+	}
+}

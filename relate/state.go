@@ -17,7 +17,7 @@ func stateError(g flow.Graph, c Choice, l ...State) error {
 			return err
 		}
 	}
-	if !c.isOf(g) {
+	if !flow.Chosen(g, c, api.MaxVars) {
 		return api.ErrShape
 	}
 	for _, s := range l {
@@ -26,18 +26,6 @@ func stateError(g flow.Graph, c Choice, l ...State) error {
 		}
 	}
 	return nil
-}
-
-// isOf a graph: some of its variables' numbers, rising.
-func (c Choice) isOf(g flow.Graph) bool {
-	last := -1
-	for _, n := range c {
-		if n <= last || n >= len(g.Vars) {
-			return false
-		}
-		last = n
-	}
-	return len(c) <= api.MaxVars
 }
 
 // fits a choice: nothing needs no octagon.

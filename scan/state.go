@@ -19,20 +19,7 @@ func isState(g flow.Graph, s State) bool {
 func hasTerm(g flow.Graph, e lang.Expr) bool {
 	// The shortest statement that has a term of its own: whatever its name, it counts for the text alone.
 	_, err := lang.Text(lang.Program{Main: []lang.Stmt{{Kind: "set", Name: "x", Args: []lang.Expr{e}}}})
-	return err == nil && knows(g, e)
-}
-
-// knows all names of a term, as what they are used.
-func knows(g flow.Graph, e lang.Expr) bool {
-	switch e.Op {
-	case "var":
-		return slices.Contains(g.Vars, e.Name)
-	case "at":
-		if arrayNumber(g, e.Name) < 0 {
-			return false
-		}
-	}
-	return !slices.ContainsFunc(e.L, func(part lang.Expr) bool { return !knows(g, part) })
+	return err == nil && flow.Knows(g, e)
 }
 
 // arrayNumber of a name, or -1.

@@ -11,6 +11,7 @@ type Kind[S any] struct {
 	Join   func(a, b S) S          // one that has both
 	Widen  func(a, b S) S          // one that has both; whatever it is widened by, it changes only so often
 	Within func(a, b S) bool
+	Early  int // how often what comes back to a point is taken as it is, ahead of what it is widened by
 }
 
 // Holds tells the first edge of which the table lacks what comes along it (-1: point 0 lacks what is first), or that there is none. The graph is valid, and the table has a state for each point.

@@ -183,6 +183,23 @@ func TestTableEnds(t *testing.T) {
 	}
 }
 
+// What comes back is taken as it is, so often as is told, ahead of what it is widened by.
+func TestTableIsEarly(t *testing.T) {
+	g := flow.Graph{Points: 2, Edges: []flow.Edge{edge(0, 1, "skip", 0), edge(1, 1, "add", 1)}}
+	for early := range 6 {
+		var met []set
+		k := kind(func(a, b set) set {
+			met = append(met, a)
+			return coarse(a, b)
+		})
+		k.Early = early
+		table, err := k.Table(g)
+		if want := set(1)<<(early+1) - 1; len(met) != 1 || met[0] != want || table[1] != all || err != nil {
+			t.Error(early, met, table, err)
+		}
+	}
+}
+
 func TestHolds(t *testing.T) {
 	r := rand.New(rand.NewSource(3))
 	seen := map[int]int{}

@@ -21,6 +21,7 @@ type solver[S any] struct {
 	back   []bool // of each edge: it leads back in the order. Each round of a way has such an edge
 	head   []bool // of each point: such an edge leads to it
 	calm   []int  // of each point: how much patience is left
+	early  []int  // of each point: how often it may still take what comes back as it is
 	due    []bool // of each point: what comes to it has changed
 	table  []S    // of each point
 	coming []S    // along each edge, of the table as it is
@@ -31,7 +32,7 @@ func newSolver[S any](k Kind[S], g flow.Graph, order []int) *solver[S] {
 		Kind: k, edges: g.Edges, order: order,
 		ins: make([][]int, g.Points), outs: make([][]int, g.Points),
 		back: make([]bool, len(g.Edges)), head: make([]bool, g.Points),
-		calm: slices.Repeat([]int{patience}, g.Points), due: make([]bool, g.Points),
+		calm: slices.Repeat([]int{patience}, g.Points), early: slices.Repeat([]int{k.Early}, g.Points), due: make([]bool, g.Points),
 		table: slices.Repeat([]S{k.None}, g.Points), coming: slices.Repeat([]S{k.None}, len(g.Edges)),
 	}
 	place := make([]int, g.Points)
@@ -108,7 +109,12 @@ func (s *solver[S]) grown(at int) S {
 	default:
 		state = s.Widen(state, enters)
 	}
-	if !s.Within(returns, state) {
+	switch {
+	case s.Within(returns, state):
+	case s.early[at] > 0:
+		s.early[at]--
+		state = s.Join(state, returns)
+	default:
 		state = s.Widen(state, returns)
 	}
 	return state

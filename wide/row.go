@@ -83,8 +83,11 @@ func (r Row) Sum(x Num, other Row, y Num) Row {
 // Dot is the sum of products.
 func (r Row) Dot(other Row) Num {
 	var sum Num
-	for _, n := range r.With(other, Num.Times) {
-		sum = sum.Plus(n)
+	for i := range min(len(r), len(other)) {
+		// Many numbers are 0, and no call is asked as often as this one.
+		if r[i].Sign() != 0 && other[i].Sign() != 0 {
+			sum = sum.Plus(r[i].Times(other[i]))
+		}
 	}
 	return sum
 }
