@@ -25,7 +25,7 @@ func (s scanner) paired(a, b state, do func() state) state {
 	return do()
 }
 
-// join of two: the least one, if it can soon be told; else rows of either, and stops, moved so that they hold for both.
+// join of two: the least one, if it can soon be told.
 func (s scanner) join(a, b state) state {
 	return s.paired(a, b, func() state {
 		switch {
@@ -33,16 +33,21 @@ func (s scanner) join(a, b state) state {
 			return s.small(b.Poly)
 		case within(b, a):
 			return s.small(a.Poly)
-		}
-		rays, lines := slices.Concat(a.Rays, b.Rays), slices.Concat(a.Lines, b.Lines)
-		if len(rays) <= few {
-			if p, ok := exact.Made(s.dim(), rays, lines, api.MaxRows); ok {
+		case len(a.Rays)+len(b.Rays) <= few:
+			if p, ok := exact.Made(s.dim(), slices.Concat(a.Rays, b.Rays), slices.Concat(a.Lines, b.Lines), api.MaxRows); ok {
 				return s.small(p)
 			}
 		}
-		far := func(l []wide.Row) []wide.Row { return moved(l, rays, lines) }
-		return s.byRows(s.even(a, b), far(ways(a.Poly)), far(ways(b.Poly)), far(s.stops))
+		return s.around(a, b)
 	})
+}
+
+// around two: rows of either, and stops, moved so that they hold for both, and whatever is even of both.
+func (s scanner) around(a, b state) state {
+	far := func(l []wide.Row) []wide.Row {
+		return moved(l, slices.Concat(a.Rays, b.Rays), slices.Concat(a.Lines, b.Lines))
+	}
+	return s.byRows(s.even(a, b), far(ways(a.Poly)), far(ways(b.Poly)), far(s.stops))
 }
 
 // widen a by b: rows of a, and stops, that hold for both, and whatever is even of both.

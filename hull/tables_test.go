@@ -9,11 +9,9 @@ import (
 	"time"
 
 	"raycone/api"
-	"raycone/exact"
 	"raycone/flow"
 	"raycone/lang"
 	"raycone/poly"
-	"raycone/wide"
 )
 
 // P163: what is told of a few programs at their last point: it may be more that holds, but not without need.
@@ -249,81 +247,6 @@ func TestScanManyRows(t *testing.T) {
 	}
 	if edge, ok, err := Holds(g, chosen("xy"), tab); edge != -1 || !ok || err != nil {
 		t.Error(edge, ok, err)
-	}
-}
-
-// Two of which the least that has both has too many rows to be told: some that hold for both are.
-func TestJoinMany(t *testing.T) {
-	simplex := func(from int) state {
-		var gens api.Gens
-		for x := from; x < from+6; x++ {
-			gens.Points = append(gens.Points, api.Point{X: []int{x, x * x, x * x * x, x * x * x * x, x * x * x * x * x}, Den: 1})
-		}
-		gens.Dim = 5
-		p, err := poly.Constrain(gens)
-		if err != nil || poly.Valid(p) != nil {
-			t.Fatal(p, err)
-		}
-		return state{Poly: exact.Of(p)}
-	}
-	a, b := simplex(-6), simplex(0)
-	v := viewOf(names(), Choice{0, 1, 2, 3, 4})
-	if _, ok := exact.Made(5, slices.Concat(a.Rays, b.Rays), nil, api.MaxMany); ok {
-		t.Error("few rows")
-	}
-	for _, most := range []int{api.MaxEntry, 1000, 0} {
-		s := scanner{view: v, most: most, stops: ways(v.zeros().Poly)}
-		for i, both := range []state{s.join(a, b), s.join(s.join(a, a), s.join(b, b)), s.widen(a, b)} {
-			rows, err := both.Rows()
-			if !within(a, both) || !within(b, both) || err != nil || poly.Valid(rows) != nil {
-				t.Error(most, rows, err)
-			}
-			if slices.ContainsFunc(rows.Rows, func(r api.Row) bool {
-				return slices.ContainsFunc(append(r.A, r.B), func(n int) bool { return n > most || n < -most })
-			}) {
-				t.Error(most, rows)
-			}
-			if (len(rows.Rows) == 0) != (most == 0) {
-				t.Error(most, rows)
-			}
-			if x := exact.Of(loose("xyzwv", "x >= -6, x <= 5")); most > 0 && i == 0 && (!both.IsUp(x.Up[0]) || !both.IsUp(x.Up[1])) {
-				t.Error(most, rows)
-			}
-		}
-		// Of nothing and another one: that one, as it is.
-		for _, both := range []state{s.join(a, v.nothing()), s.join(v.nothing(), a), s.widen(a, v.nothing()), s.widen(v.nothing(), a)} {
-			if !within(a, both) || !within(both, a) {
-				t.Error(most, both)
-			}
-		}
-	}
-}
-
-// Rows that are moved touch what they hold on.
-func TestMoved(t *testing.T) {
-	for _, c := range []struct{ row, of, want string }{
-		{"x >= 0", "x = 3, y = 1", "x >= 3"},
-		{"x >= 9", "x = 3, y = 1", "x >= 3"},
-		{"x <= 0", "x = 3, y = 1", "x <= 3"},
-		{"2x -y >= 0", "3x = 1, 2y = 1", "12x -6y >= 1"},
-		{"x y <= 1", "x >= 0, x <= 3, y >= 1, y <= 2", "x y <= 5"},
-		{"x y >= 100", "x >= -4, x <= 3, 2y >= 1, y <= 2", "2x 2y >= -7"},
-		{"x >= 0", "x >= 1, y >= 2", "x >= 1"},
-		{"x -y >= 0", "x >= 1, y >= 2", ""},
-		{"x <= 0", "x >= 1, y >= 2", ""},
-		{"x y >= 0", "x >= 1, y >= 2", "x y >= 3"},
-		{"x y >= 7", "2x 2y = 5", "2x 2y >= 5"},
-		{"x y <= 7", "2x 2y = 5", "2x 2y <= 5"},
-		{"2x y <= 7", "2x 2y = 5", ""},
-		{"x <= 7", "3x <= -5", "3x <= -5"},
-		{"y <= 7", "3x <= -5", ""},
-		{"y >= 7", "y >= 7, x = 0", "y >= 7"},
-	} {
-		p := exact.Of(loose("xy", c.of))
-		got := moved(exact.Of(loose("xy", c.row)).Up, p.Rays, p.Lines)
-		if want := exact.Of(loose("xy", c.want)).Up; !slices.EqualFunc(got, want, func(a, b wide.Row) bool { return a.Compare(b) == 0 }) {
-			t.Error(c, got)
-		}
 	}
 }
 

@@ -48,6 +48,29 @@ func TestRowInts(t *testing.T) {
 	}
 }
 
+// Signs, 0, and numbers that no int holds.
+func TestRowDot(t *testing.T) {
+	great := From(math.MaxInt).Times(From(-4))
+	for i, c := range []struct {
+		a, b Row
+		want Num
+	}{
+		{nil, nil, From(0)},
+		{RowOf([]int{1, 2}), nil, From(0)},
+		{RowOf([]int{-1, 2}), RowOf([]int{3, -4, 5}), From(-11)},
+		{RowOf([]int{3, -4, 5}), RowOf([]int{-1, 2}), From(-11)},
+		{RowOf([]int{-3, 0, -2}), RowOf([]int{-5, 7, 1}), From(13)},
+		{RowOf([]int{0, 0}), Row{great, From(-1)}, From(0)},
+		{Row{great, From(2)}, RowOf([]int{-1, 3}), great.Negated().Plus(From(6))},
+		{Row{great, From(2)}, Row{great, From(-1)}, great.Times(great).Minus(From(2))},
+		{Row{great, great}, RowOf([]int{1, -1}), From(0)},
+	} {
+		if got := c.a.Dot(c.b); got.Compare(c.want) != 0 {
+			t.Error(i, got)
+		}
+	}
+}
+
 func TestRowSums(t *testing.T) {
 	a, b := RowOf([]int{1, 2, 3}), RowOf([]int{4, -5, 6})
 	if got, _ := a.Sum(From(2), b, From(-1)).Ints(); !slices.Equal(got, []int{-2, 9, 0}) {
