@@ -2,6 +2,7 @@
 package exact
 
 import (
+	"math"
 	"slices"
 
 	"raycone/api"
@@ -68,11 +69,18 @@ func Hull(dim int, rays, lines []wide.Row) (api.Poly, error) {
 	}
 	// One more than can be told may be the endless one.
 	up, even := dual.FewGenerators(dim+1, rays, lines, api.MaxMany+1)
-	return tell(dim, withoutEndless(up), even)
+	return Poly{Dim: dim, Up: withoutEndless(up), Even: even}.Rows()
 }
 
-// Made of points, rays and lines: the least polyhedron of dim numbers that has them; false: it has more than most rows.
-func Made(dim int, rays, lines []wide.Row, most int) (Poly, bool) {
+// Made of points, rays and lines: the least polyhedron of dim numbers that has them.
+func Made(dim int, rays, lines []wide.Row) Poly {
+	// One more than the most is asked for.
+	p, _ := FewMade(dim, rays, lines, math.MaxInt-1)
+	return p
+}
+
+// FewMade is what is Made of these, if it has at most so many rows; false: it has more.
+func FewMade(dim int, rays, lines []wide.Row, most int) (Poly, bool) {
 	if !slices.ContainsFunc(rays, isPoint) {
 		return nothing(dim), true
 	}
@@ -140,21 +148,27 @@ func HoldsAt(r api.Row, x api.Point) bool {
 	return side == 0 || side > 0 && !r.Eq
 }
 
-// Rows in form (P31), if they can be told.
-func (p Poly) Rows() (api.Poly, error) { return tell(p.Dim, p.Up, p.Even) }
-
-func tell(dim int, up, even []wide.Row) (api.Poly, error) {
-	told, err := bound.TellKinds(even, up)
-	if err != nil {
-		return api.Poly{}, err
+// Rows in form (P31), if they can be told, and are not too many.
+func (p Poly) Rows() (api.Poly, error) {
+	if bound.Count(p.Up, p.Even) > api.MaxMany {
+		return api.Poly{}, api.ErrBound
 	}
-	p := api.Poly{Dim: dim}
-	for kind, l := range told {
-		for _, r := range l {
-			p.Rows = append(p.Rows, api.Row{Eq: kind == 0, A: ahead(r), B: -r[dim]})
+	return p.AllRows()
+}
+
+// AllRows in form, however many, if they can be told.
+func (p Poly) AllRows() (api.Poly, error) {
+	all := api.Poly{Dim: p.Dim}
+	for kind, l := range [][]wide.Row{p.Even, p.Up} {
+		told, err := bound.TellAll(l)
+		if err != nil {
+			return api.Poly{}, err
+		}
+		for _, r := range told {
+			all.Rows = append(all.Rows, api.Row{Eq: kind == 0, A: ahead(r), B: -r[p.Dim]})
 		}
 	}
-	return p, nil
+	return all, nil
 }
 
 // Gens in form (P33), if they can be told.

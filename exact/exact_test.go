@@ -2,6 +2,7 @@ package exact
 
 import (
 	"fmt"
+	"math"
 	"math/rand"
 	"testing"
 
@@ -116,7 +117,7 @@ func TestHullMany(t *testing.T) {
 	}
 }
 
-// Made of needless generators, too, a polyhedron has both its forms, if it has not too many rows.
+// Made of needless generators, too, a polyhedron has both its forms; if few rows are asked for, only if it has no more.
 func TestMade(t *testing.T) {
 	r := rand.New(rand.NewSource(2))
 	some := func(most, dim int) [][]int {
@@ -140,8 +141,11 @@ func TestMade(t *testing.T) {
 		}
 		rays, lines := Makers(g)
 		given := fmt.Sprint(rays, lines)
+		if p := Made(g.Dim, rays, lines); both(t, p) != both(t, Of(rows)) {
+			t.Fatal(g, both(t, p), both(t, Of(rows)))
+		}
 		for _, most := range []int{len(rows.Rows) - 1, len(rows.Rows), api.MaxMany} {
-			p, ok := Made(g.Dim, rays, lines, most)
+			p, ok := FewMade(g.Dim, rays, lines, most)
 			// Nothing at all is told whatever is the most.
 			if want := most >= len(rows.Rows) || len(g.Points) == 0; ok != want {
 				t.Fatal(g, most, ok)
@@ -155,8 +159,36 @@ func TestMade(t *testing.T) {
 		}
 	}
 	for many, want := range map[int]bool{59: true, 60: true, 61: false, 200: false} {
-		if p, ok := Made(2, corners(many), nil, 60); ok != want || ok && len(p.Up) != many {
+		if p, ok := FewMade(2, corners(many), nil, 60); ok != want || ok && len(p.Up) != many {
 			t.Error(many, ok, len(p.Up))
+		}
+		if p := Made(2, corners(many), nil); len(p.Up) != many || len(p.Rays) != many {
+			t.Error(many, len(p.Up), len(p.Rays))
+		}
+	}
+}
+
+// However many rows are told in form; or no more than can be told of any polyhedron.
+func TestAllRows(t *testing.T) {
+	for many, want := range map[int]error{3: nil, 59: nil, 60: nil, 61: api.ErrBound, 200: api.ErrBound} {
+		p := Made(2, corners(many), nil)
+		all, err := p.AllRows()
+		if len(all.Rows) != many || all.Dim != 2 || err != nil {
+			t.Error(many, len(all.Rows), err)
+		}
+		if again, _ := Of(all).AllRows(); fmt.Sprint(again) != fmt.Sprint(all) {
+			t.Error(many, again, all)
+		}
+		rows, err := p.Rows()
+		if err != want || err == nil && fmt.Sprint(rows) != fmt.Sprint(all) || err != nil && (rows.Dim != 0 || len(rows.Rows) > 0) {
+			t.Error(many, rows, err)
+		}
+	}
+	// A number that cannot be told, among few and among many.
+	for _, many := range []int{3, 100} {
+		p := Made(2, append(corners(many), wide.Row{wide.From(1), wide.From(math.MinInt), wide.From(1)}), nil)
+		if all, err := p.AllRows(); err != api.ErrBound || all.Dim != 0 || len(all.Rows) > 0 {
+			t.Error(many, all, err)
 		}
 	}
 }

@@ -27,8 +27,8 @@ func (v view) dim() int { return len(v.names) }
 // sum that a term is of the chosen variables.
 func (v view) sum(e lang.Expr) (linear.Sum, bool) { return linear.Of(e, v.names, api.MaxEntry) }
 
-// after an act that the graph may have; false: that has too many rows.
-func (v view) after(p exact.Poly, a flow.Act) (exact.Poly, bool) {
+// after an act that the graph may have.
+func (v view) after(p exact.Poly, a flow.Act) exact.Poly {
 	switch x := slices.Index(v.names, a.Name); a.Kind {
 	case "read":
 		if x >= 0 {
@@ -39,20 +39,20 @@ func (v view) after(p exact.Poly, a flow.Act) (exact.Poly, bool) {
 			return v.set(p, x, a.Args[0])
 		}
 	case "test", "fail":
-		return v.tests(p, a.Tests), true
+		return v.tests(p, a.Tests)
 	}
-	return p, true
+	return p
 }
 
 // anything is what x becomes.
-func (v view) anything(p exact.Poly, x int) (exact.Poly, bool) {
+func (v view) anything(p exact.Poly, x int) exact.Poly {
 	line := make([]int, v.dim()+1)
 	line[x] = 1
-	return exact.Made(v.dim(), p.Rays, append(slices.Clone(p.Lines), wide.RowOf(line)), api.MaxMany)
+	return exact.Made(v.dim(), p.Rays, append(slices.Clone(p.Lines), wide.RowOf(line)))
 }
 
 // set x to a term. What makes the polyhedron becomes what makes the next one.
-func (v view) set(p exact.Poly, x int, e lang.Expr) (exact.Poly, bool) {
+func (v view) set(p exact.Poly, x int, e lang.Expr) exact.Poly {
 	s, ok := v.sum(e)
 	if !ok {
 		return v.anything(p, x)
@@ -66,7 +66,7 @@ func (v view) set(p exact.Poly, x int, e lang.Expr) (exact.Poly, bool) {
 		}
 		return out
 	}
-	return exact.Made(v.dim(), become(p.Rays), become(p.Lines), api.MaxMany)
+	return exact.Made(v.dim(), become(p.Rays), become(p.Lines))
 }
 
 // tests all hold.

@@ -8,6 +8,7 @@ import (
 	"testing"
 
 	"raycone/api"
+	"raycone/exact"
 	"raycone/flow"
 	"raycone/lang"
 	"raycone/ops"
@@ -139,7 +140,7 @@ func TestGoTests(t *testing.T) {
 	}
 }
 
-// P162: rows that cannot be handed in are told; what has too great numbers or too many rows is not.
+// P162: rows that cannot be handed in are told, however many; what has too great numbers is not.
 func TestGoBounds(t *testing.T) {
 	for _, c := range []struct {
 		from, act, want string
@@ -162,13 +163,13 @@ func TestGoBounds(t *testing.T) {
 		}
 	}
 	// Sides at a parabola: none of them is needless.
-	for many, want := range map[int]error{1: nil, 24: nil, 25: nil, 59: nil, 60: nil, 61: api.ErrBound, 90: api.ErrBound} {
+	for _, many := range []int{1, 24, 25, 59, 60, 61, 90} {
 		var l []string
 		for i := range many {
 			l = append(l, "y>="+strconv.Itoa(100*i)+"*x-"+strconv.Itoa(2500*i*i))
 		}
 		p, err := Go(names(), Choice{0, 1}, api.Poly{Dim: 2}, actOf(t, "assume "+strings.Join(l, " and ")+";"))
-		if err != want || err == nil && len(p.Rows) != many || err != nil && !isZero(p) {
+		if len(p.Rows) != many || err != nil {
 			t.Error(many, len(p.Rows), err)
 		}
 	}
@@ -289,7 +290,37 @@ func TestGoExactByGens(t *testing.T) {
 	}
 }
 
-// P162: as many rows as can be told, and more, come of few.
+// eliminated: x is in no row that comes of rows without Eq: these are those without it, and of each that bounds it from below and each that does so from above the sum in which it is not.
+func eliminated(p api.Poly, x int) []api.Row {
+	var l []api.Row
+	for _, r := range p.Rows {
+		if r.A[x] == 0 {
+			l = append(l, r)
+		}
+		for _, s := range p.Rows {
+			if n, k := r.A[x], -s.A[x]; n > 0 && k > 0 {
+				sum := api.Row{B: k*r.B + n*s.B}
+				for i := range r.A {
+					sum.A = append(sum.A, k*r.A[i]+n*s.A[i])
+				}
+				l = append(l, sum)
+			}
+		}
+	}
+	return l
+}
+
+// formOf however many rows.
+func formOf(t *testing.T, dim int, rows []api.Row) api.Poly {
+	t.Helper()
+	p, err := exact.Of(api.Poly{Dim: dim, Rows: rows}).AllRows()
+	if err != nil {
+		t.Fatal(err)
+	}
+	return p
+}
+
+// P162: as many rows as polyhedra are else told by, and more, come of few.
 func TestGoManyRows(t *testing.T) {
 	m := makerOf(1622)
 	of := "xyzwv"
@@ -308,24 +339,26 @@ func TestGoManyRows(t *testing.T) {
 			}
 			p.Rows = append(p.Rows, r)
 		}
+		rows := eliminated(p, 0)
 		less, err := ops.Forget(p, 0)
 		got, wrong := Go(names(), c, p, actOf(t, "read x;"))
-		if !same(got, less) || err != wrong {
+		if !same(got, formOf(t, 5, rows)) || wrong != nil || err == nil && !same(got, less) {
 			t.Fatal(said(of, p), said(of, got), wrong, err)
 		}
 		become, err := ops.Image(p, ops.Map{{0, 2, 1, 0, 0, 0}, {0, 1, 0, 0, 0, 0}, {0, 0, 1, 0, 0, 0}, {0, 0, 0, 1, 0, 0}, {0, 0, 0, 0, 1, 0}})
 		set, wrong := Go(names(), c, p, actOf(t, "x=2*y+z;"))
-		if !same(set, become) || err != wrong {
+		rows = append(rows, api.Row{Eq: true, A: []int{1, -2, -1, 0, 0}})
+		if !same(set, formOf(t, 5, rows)) || wrong != nil || err == nil && !same(set, become) {
 			t.Fatal(said(of, p), said(of, set), wrong, err)
 		}
-		switch n := max(len(got.Rows), len(set.Rows)); {
-		case n == 0:
-			seen["bound"]++
+		switch n := len(got.Rows); {
+		case n > api.MaxMany:
+			seen["more"]++
 		case n > api.MaxRows:
 			seen["many"]++
 		}
 	}
-	if seen["bound"] < 3 || seen["many"] < 3 {
+	if seen["more"] < 3 || seen["many"] < 3 {
 		t.Error(seen)
 	}
 }

@@ -34,7 +34,7 @@ func (s scanner) join(a, b state) state {
 		case within(b, a):
 			return s.small(a.Poly)
 		case len(a.Rays)+len(b.Rays) <= few:
-			if p, ok := exact.Made(s.dim(), slices.Concat(a.Rays, b.Rays), slices.Concat(a.Lines, b.Lines), api.MaxRows); ok {
+			if p, ok := exact.FewMade(s.dim(), slices.Concat(a.Rays, b.Rays), slices.Concat(a.Lines, b.Lines), api.MaxRows); ok {
 				return s.small(p)
 			}
 		}

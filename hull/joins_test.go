@@ -177,11 +177,11 @@ func TestKept(t *testing.T) {
 		s := scannerOf("xyzwv", api.MaxEntry)
 		side := func() state {
 			act := round(m, 6, 6, 23).Edges[5].Act
-			p, ok := s.after(stateIs("xyzwv", "v = 0").Poly, act)
-			if one := stateOf(p, ok); !one.isLost {
+			one := stateOf(s.after(stateIs("xyzwv", "v = 0").Poly, act))
+			if !one.isLost {
 				return one
 			}
-			t.Fatal(p)
+			t.Fatal(one)
 			return state{}
 		}
 		a, b := side(), side()
@@ -215,7 +215,7 @@ func TestJoinMany(t *testing.T) {
 	}
 	a, b := simplex(-6), simplex(0)
 	v := viewOf(names(), Choice{0, 1, 2, 3, 4})
-	if _, ok := exact.Made(5, slices.Concat(a.Rays, b.Rays), nil, api.MaxMany); ok {
+	if _, ok := exact.FewMade(5, slices.Concat(a.Rays, b.Rays), nil, api.MaxMany); ok {
 		t.Error("few rows")
 	}
 	for _, most := range []int{api.MaxEntry, 1000, 0} {

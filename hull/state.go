@@ -34,10 +34,7 @@ type state struct {
 }
 
 // stateOf a polyhedron, which is lost if it is none that poly.Valid takes.
-func stateOf(p exact.Poly, ok bool) state {
-	if !ok {
-		return state{isLost: true}
-	}
+func stateOf(p exact.Poly) state {
 	rows, err := p.Rows()
 	return state{p, err != nil || poly.Valid(rows) != nil}
 }
