@@ -101,6 +101,9 @@ func TestCheck(t *testing.T) {
 		if got != c.want || err != nil {
 			t.Errorf("%q %q %v: %v %v", c.rows, c.row, c.f, got, err)
 		}
+		if got := Proves(readAs(t, c.dim, c.rows), readRow(t, c.dim, c.row), c.f); got != c.want {
+			t.Errorf("%q %q %v: %v", c.rows, c.row, c.f, got)
+		}
 	}
 }
 
@@ -187,6 +190,47 @@ func TestCheckErrors(t *testing.T) {
 		got, err := Check(c.p, c.r, c.f)
 		if err != c.want || err != nil && got {
 			t.Error(c, got, err)
+		}
+	}
+}
+
+// P50: a proof holds, however great its numbers are; of what is none at all nothing is proved.
+func TestProves(t *testing.T) {
+	const great = math.MaxInt
+	p := made(2, least(1, 1, 0), same(2, 0, 1))
+	many := made(1, slices.Repeat([]api.Row{least(0, 1)}, 25)...)
+	for i, c := range []struct {
+		p    api.Poly
+		r    api.Row
+		f    Proof
+		want bool
+	}{
+		{p, least(3, 1, 1), proof(great, great, great), true},
+		{p, least(4, 1, 1), proof(great, great, great), false},
+		{p, least(-1, 1, -1), proof(great, great, -great), true},
+		{p, least(-1, 1, -1), proof(great, great, math.MinInt), false},
+		{p, least(3, 1, 1), proof(1, math.MinInt, great), false},
+		{p, least(-over, over, 0), proof(1, over, 0), true},
+		{p, least(over, over, 0), proof(1, over, 0), true},
+		{p, least(over+1, over, 0), proof(1, over, 0), false},
+		{p, same(1, 1, 0), proof(1, 1, 0), false},
+		{p, least(1, 1), proof(1, 1, 0), false},
+		{p, least(1, 1, 0, 0), proof(1, 1, 0), false},
+		{p, least(0), proof(1, 0, 0), false},
+		{p, least(1, 1, 0), proof(0, 1, 0), false},
+		{p, least(0, 0, 0), proof(math.MinInt, 0, 0), false},
+		{p, least(1, 1, 0), proof(1, 1), false},
+		{p, least(1, 1, 0), proof(1, 1, 0, 0), false},
+		{p, least(1, 1, 0), Proof{}, false},
+		{made(2, least(1, 1)), least(1, 1, 0), proof(1, 1), false},
+		{made(2, least(1, 1, 0, 0)), least(1, 1, 0), proof(1, 1), false},
+		{made(1, least(over, 1)), least(over, 1), proof(1, 1), false},
+		{made(6), least(0, 0, 0, 0, 0, 0, 0), proof(1), false},
+		{made(-1), least(0), proof(1), false},
+		{many, least(0, 1), Proof{append([]int{1}, make([]int, 24)...), 1}, false},
+	} {
+		if got := Proves(c.p, c.r, c.f); got != c.want {
+			t.Error(i, got)
 		}
 	}
 }

@@ -27,6 +27,17 @@ func stateError(g flow.Graph, c Choice, l ...api.Poly) error {
 	return nil
 }
 
+// tableError: what is wrong with a table of a graph.
+func tableError(g flow.Graph, c Choice, t []api.Poly) error {
+	if err := stateError(g, c, t...); err != nil {
+		return err
+	}
+	if len(t) != g.Points {
+		return api.ErrShape
+	}
+	return nil
+}
+
 // state at a point, or lost: it cannot be told, or not be handed in.
 type state struct {
 	exact.Poly

@@ -188,6 +188,50 @@ func TestLost(t *testing.T) {
 	}
 }
 
+// What comes along the edges of a table is what Go makes, up to the first edge of which that cannot be told, or not be handed in.
+func TestAlong(t *testing.T) {
+	m := makerOf(1630)
+	seen := map[bool]int{}
+	for range 900 {
+		g, c := m.wild(t), chosen(m.of(5))
+		tab, err := Scan(g, c)
+		if err != nil {
+			t.Fatal(err)
+		}
+		tab = m.changed(c, tab)
+		for at := range tab {
+			if m.Intn(3) == 0 {
+				tab[at] = api.Poly{Dim: len(c)}
+				for i := range c {
+					row := api.Row{Eq: true, A: make([]int, len(c)), B: api.MaxEntry - m.Intn(3)}
+					row.A[i] = 1
+					tab[at].Rows = append(tab[at].Rows, row)
+				}
+			}
+		}
+		made, err := Along(g, c, tab)
+		if err != nil {
+			t.Fatal(g, tab, err)
+		}
+		for i, e := range g.Edges {
+			p, err := Go(g, c, tab[e.From], e.Act)
+			if lost := err != nil || poly.Valid(p) != nil; lost || i == len(made) {
+				if !lost || i != len(made) {
+					t.Fatal(g, tab, i, p, err, len(made))
+				}
+				break
+			}
+			if !same(p, made[i]) {
+				t.Fatal(g, tab, i, p, made[i])
+			}
+		}
+		seen[len(made) < len(g.Edges)]++
+	}
+	if seen[true] < 20 || seen[false] < 20 {
+		t.Error(seen)
+	}
+}
+
 // P163: numbers that grow where ways meet do not spoil what comes: less is told there.
 func TestScanKeepsNumbersSmall(t *testing.T) {
 	for _, c := range []struct{ main, want string }{
@@ -275,6 +319,10 @@ func TestTableErrors(t *testing.T) {
 		edge, is, err := Holds(g, k.c, k.t)
 		if err != k.want || err != nil && (edge != 0 || is) {
 			t.Error(i, edge, is, err)
+		}
+		made, err := Along(g, k.c, k.t)
+		if err != k.want || (err == nil) != (len(made) == len(g.Edges)) {
+			t.Error(i, made, err)
 		}
 	}
 	for i, k := range []struct {
