@@ -137,6 +137,26 @@ func (p Poly) IsEven(r wide.Row) bool {
 	return !slices.ContainsFunc(p.Rays, cuts(r)) && !slices.ContainsFunc(p.Lines, cuts(r))
 }
 
+// Ways of its rows: each holds one way, so that of an even one there are two.
+func (p Poly) Ways() []wide.Row {
+	l := slices.Concat(p.Up, p.Even)
+	for _, r := range p.Even {
+		l = append(l, r.Each(wide.Num.Negated))
+	}
+	return l
+}
+
+// Within tells whether each point is one of q.
+func (p Poly) Within(q Poly) bool {
+	fails := func(r wide.Row) bool { return !p.IsUp(r) }
+	return !slices.ContainsFunc(q.Ways(), fails)
+}
+
+// Meet with more rows: that of it where these hold, too.
+func (p Poly) Meet(up, even []wide.Row) Poly {
+	return ByRows(p.Dim, slices.Concat(p.Up, up), slices.Concat(p.Even, even))
+}
+
 // cuts is asked whether the row is other than 0 on a ray.
 func cuts(r wide.Row) func(ray wide.Row) bool {
 	return func(ray wide.Row) bool { return r.Dot(ray).Sign() != 0 }
@@ -154,6 +174,18 @@ func (p Poly) Rows() (api.Poly, error) {
 		return api.Poly{}, api.ErrBound
 	}
 	return p.AllRows()
+}
+
+// Tell each of a list in form, if all can be told.
+func Tell(l []Poly) ([]api.Poly, error) {
+	t := make([]api.Poly, len(l))
+	for i, p := range l {
+		var err error
+		if t[i], err = p.Rows(); err != nil {
+			return nil, err
+		}
+	}
+	return t, nil
 }
 
 // AllRows in form, however many, if they can be told.

@@ -257,3 +257,58 @@ func TestToldAgain(t *testing.T) {
 		}
 	}
 }
+
+// Rows one way: an even one has two. Of these, and of more rows, hangs what lies within what.
+func TestWays(t *testing.T) {
+	segment := Of(api.Poly{Dim: 2, Rows: []api.Row{same(2, 1, 1), least(0, 1, 0), least(-3, -1, 0)}})
+	if got := fmt.Sprint(ints(t, segment.Ways())); got != "[[0 -1 2] [0 1 1] [1 1 -2] [-1 -1 2]]" {
+		t.Error(got)
+	}
+	if n := len(Of(api.Poly{Dim: 2}).Ways()); n > 0 {
+		t.Error(n)
+	}
+	up, even := Split([]api.Row{least(1, 1, 0), same(1, 0, 1)})
+	point := segment.Meet(up, even)
+	if got := both(t, point); got != "{2 [{true [1 0] 1} {true [0 1] 1}]} {2 [{[1 1] 1}] [] []}" {
+		t.Error(got)
+	}
+	nothing, all := Of(api.Poly{Dim: 2, Rows: []api.Row{least(1, 0, 0)}}), Of(api.Poly{Dim: 2})
+	for i, l := 0, []Poly{nothing, point, segment, all}; i < len(l); i++ {
+		for k := range l {
+			if l[i].Within(l[k]) != (i <= k) {
+				t.Error(i, k)
+			}
+		}
+	}
+	if p := all.Meet(nil, nil); !p.Within(all) || !all.Within(p) {
+		t.Error(p)
+	}
+}
+
+func ints(t *testing.T, l []wide.Row) [][]int {
+	t.Helper()
+	var out [][]int
+	for _, r := range l {
+		row, ok := r.Ints()
+		if !ok {
+			t.Fatal(r)
+		}
+		out = append(out, row)
+	}
+	return out
+}
+
+// All of a list are told, or none.
+func TestTellList(t *testing.T) {
+	one := Of(api.Poly{Dim: 1, Rows: []api.Row{same(3, 1)}})
+	great := Made(1, []wide.Row{{wide.From(api.MaxTold).Plus(wide.From(1)), wide.From(1)}}, nil)
+	if l, err := Tell([]Poly{one, {}, one}); fmt.Sprint(l) != "[{1 [{true [1] 3}]} {0 []} {1 [{true [1] 3}]}]" || err != nil {
+		t.Error(l, err)
+	}
+	if l, err := Tell([]Poly{one, great}); len(l) > 0 || err != api.ErrBound {
+		t.Error(l, err)
+	}
+	if l, err := Tell(nil); len(l) > 0 || err != nil {
+		t.Error(l, err)
+	}
+}

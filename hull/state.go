@@ -1,42 +1,13 @@
 package hull
 
 import (
-	"slices"
-
 	"raycone/api"
 	"raycone/exact"
 	"raycone/flow"
 	"raycone/poly"
-	"raycone/wide"
+	"raycone/solve"
+	"raycone/view"
 )
-
-// stateError: what is wrong with a graph, a choice of its variables, and polyhedra over them. Polyhedra that are wrong in themselves are told ahead of such as do not fit.
-func stateError(g flow.Graph, c Choice, l ...api.Poly) error {
-	if err := flow.Valid(g); err != nil {
-		return err
-	}
-	for _, p := range l {
-		if err := poly.Valid(p); err != nil {
-			return err
-		}
-	}
-	unlike := func(p api.Poly) bool { return p.Dim != len(c) }
-	if !flow.Chosen(g, c, api.MaxDim) || slices.ContainsFunc(l, unlike) {
-		return api.ErrShape
-	}
-	return nil
-}
-
-// tableError: what is wrong with a table of a graph.
-func tableError(g flow.Graph, c Choice, t []api.Poly) error {
-	if err := stateError(g, c, t...); err != nil {
-		return err
-	}
-	if len(t) != g.Points {
-		return api.ErrShape
-	}
-	return nil
-}
 
 // state at a point, or lost: it cannot be told, or not be handed in.
 type state struct {
@@ -58,29 +29,17 @@ func statesOf(t []api.Poly) []state {
 	return l
 }
 
-// told states, none of which is lost.
-func told(l []state) ([]api.Poly, error) {
-	t := make([]api.Poly, len(l))
-	for i, s := range l {
-		var err error
-		if t[i], err = s.Rows(); err != nil {
-			return nil, err
-		}
-	}
-	return t, nil
-}
+// along an edge: what comes of a polyhedron that is not lost.
+func along(v view.View, p exact.Poly, e flow.Edge) state { return stateOf(v.After(p, e.Act)) }
 
 // within: are all points of a, which are not lost, in b?
-func within(a, b state) bool {
-	fails := func(r wide.Row) bool { return !a.IsUp(r) }
-	return !a.isLost && !slices.ContainsFunc(ways(b.Poly), fails)
-}
+func within(a, b state) bool { return !a.isLost && a.Within(b.Poly) }
 
-// ways of a polyhedron's rows: each holds one way, so that of an even one there are two.
-func ways(p exact.Poly) []wide.Row {
-	l := slices.Concat(p.Up, p.Even)
-	for _, r := range p.Even {
-		l = append(l, r.Each(wide.Num.Negated))
+// kind of states, by which it is asked whether a table holds: what comes along an edge may be lost.
+func kind(v view.View) solve.Kind[state] {
+	return solve.Kind[state]{
+		First:  state{Poly: v.Zeros()},
+		Go:     func(s state, e flow.Edge) state { return along(v, s.Poly, e) },
+		Within: within,
 	}
-	return l
 }

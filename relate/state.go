@@ -76,5 +76,6 @@ func within(a, b State) bool {
 
 // kind of states, for the solver.
 func (v view) kind() solve.Kind[State] {
-	return solve.Kind[State]{None: nothing(), First: v.zeros(), Go: v.after, Join: join, Widen: widen, Within: within}
+	along := func(s State, e flow.Edge) State { return v.after(s, e.Act) }
+	return solve.Kind[State]{None: nothing(), First: v.zeros(), Go: along, Join: join, Widen: widen, Within: within}
 }

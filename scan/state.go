@@ -100,7 +100,7 @@ func kindOf(g flow.Graph, stops []int) solve.Kind[State] {
 	return solve.Kind[State]{
 		None:   nothing(),
 		First:  zeros(g),
-		Go:     func(s State, a flow.Act) State { return after(g, s, a) },
+		Go:     func(s State, e flow.Edge) State { return after(g, s, e.Act) },
 		Join:   func(a, b State) State { return paired(a, b, interval.Join) },
 		Within: within,
 		Widen: func(a, b State) State {

@@ -5,13 +5,13 @@ import "raycone/flow"
 
 // Kind of states, and what is done with them.
 type Kind[S any] struct {
-	None   S                       // nothing comes there
-	First  S                       // what is at point 0 when all begins
-	Go     func(s S, a flow.Act) S // what an act makes of it
-	Join   func(a, b S) S          // one that has both
-	Widen  func(a, b S) S          // one that has both; whatever it is widened by, it changes only so often
+	None   S                        // nothing comes there
+	First  S                        // what is at point 0 when all begins
+	Go     func(s S, e flow.Edge) S // what comes of it along an edge
+	Join   func(a, b S) S           // one that has both
+	Widen  func(a, b S) S           // one that has both; whatever it is widened by, it changes only so often
 	Within func(a, b S) bool
-	Early  int // how often what comes back to a point is taken as it is, ahead of what it is widened by
+	Early  int // how often, at least, what comes to a point is taken as it is, ahead of what it is widened by
 }
 
 // Holds tells the first edge of which the table lacks what comes along it (-1: point 0 lacks what is first), or that there is none. The graph is valid, and the table has a state for each point.
@@ -20,7 +20,7 @@ func (k Kind[S]) Holds(g flow.Graph, table []S) (int, bool) {
 		return -1, false
 	}
 	for i, e := range g.Edges {
-		if !k.Within(k.Go(table[e.From], e.Act), table[e.To]) {
+		if !k.Within(k.Go(table[e.From], e), table[e.To]) {
 			return i, false
 		}
 	}

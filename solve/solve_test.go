@@ -43,9 +43,11 @@ func done(s set, a flow.Act) set {
 	return s
 }
 
+func along(s set, e flow.Edge) set { return done(s, e.Act) }
+
 // kind of sets, with a way to widen.
 func kind(widen func(a, b set) set) Kind[set] {
-	return Kind[set]{None: 0, First: 1, Go: done, Join: join, Widen: widen, Within: within}
+	return Kind[set]{None: 0, First: 1, Go: along, Join: join, Widen: widen, Within: within}
 }
 
 // coarse: it is everything as soon as there is more.
@@ -157,8 +159,8 @@ func TestTableEnds(t *testing.T) {
 	widened := 0
 	k := Kind[count]{
 		None: -1, First: 0,
-		Go: func(s count, a flow.Act) count {
-			if s < 0 || a.Kind == "skip" {
+		Go: func(s count, e flow.Edge) count {
+			if s < 0 || e.Act.Kind == "skip" {
 				return s
 			}
 			return s + 1
@@ -196,6 +198,22 @@ func TestTableIsEarly(t *testing.T) {
 		table, err := k.Table(g)
 		if want := set(1)<<(early+1) - 1; len(met) != 1 || met[0] != want || table[1] != all || err != nil {
 			t.Error(early, met, table, err)
+		}
+	}
+}
+
+// Also what enters an inner round, time and again, from a round around it.
+func TestTableIsEarlyInside(t *testing.T) {
+	g := flow.Graph{Points: 3, Edges: []flow.Edge{edge(0, 1, "skip", 0), edge(1, 2, "skip", 0), edge(2, 2, "skip", 0), edge(2, 1, "add", 1)}}
+	for early := range 15 {
+		few := 16
+		k := kind(func(a, b set) set {
+			few = min(few, bits.OnesCount32(uint32(a)))
+			return coarse(a, b)
+		})
+		k.Early = early
+		if table, err := k.Table(g); few != early+1 || table[2] != all || err != nil {
+			t.Error(early, few, table, err)
 		}
 	}
 }

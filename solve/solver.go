@@ -7,7 +7,7 @@ import (
 )
 
 const (
-	patience = 8  // how often a point where ways meet again takes what enters it as it is
+	patience = 8  // how often, at least, a point where ways meet again takes what enters it as it is
 	rounds   = 10 // of looking for less that holds too
 )
 
@@ -32,7 +32,7 @@ func newSolver[S any](k Kind[S], g flow.Graph, order []int) *solver[S] {
 		Kind: k, edges: g.Edges, order: order,
 		ins: make([][]int, g.Points), outs: make([][]int, g.Points),
 		back: make([]bool, len(g.Edges)), head: make([]bool, g.Points),
-		calm: slices.Repeat([]int{patience}, g.Points), early: slices.Repeat([]int{k.Early}, g.Points), due: make([]bool, g.Points),
+		calm: slices.Repeat([]int{max(patience, k.Early+1)}, g.Points), early: slices.Repeat([]int{k.Early}, g.Points), due: make([]bool, g.Points),
 		table: slices.Repeat([]S{k.None}, g.Points), coming: slices.Repeat([]S{k.None}, len(g.Edges)),
 	}
 	place := make([]int, g.Points)
@@ -90,7 +90,7 @@ func (s *solver[S]) become(at int, state S) {
 	}
 	s.table[at] = state
 	for _, i := range s.outs[at] {
-		s.coming[i] = s.Go(state, s.edges[i].Act)
+		s.coming[i] = s.Go(state, s.edges[i])
 		s.due[s.edges[i].To] = true
 	}
 }

@@ -1,4 +1,4 @@
-package hull
+package joins
 
 import (
 	"slices"
@@ -12,16 +12,15 @@ import (
 	"raycone/wide"
 )
 
-func stateIs(of, s string) state { return state{Poly: exact.Of(loose(of, s))} }
+func polyIs(of, s string) exact.Poly { return exact.Of(loose(of, s)) }
 
-// scannerOf names, with signs for stops.
-func scannerOf(of string, most int) scanner {
-	v := viewOf(names(), chosen(of))
-	return scanner{view: v, most: most, stops: ways(v.zeros().Poly)}
-}
+func nothing(of string) exact.Poly { return polyIs(of, "none") }
+
+// joinerOf names, with signs for stops.
+func joinerOf(of string, most int) Joiner { return Joiner{Most: most, Stops: signs(len(of))} }
 
 // isSmall: it can be handed in, by numbers up to most.
-func isSmall(t *testing.T, s state, most int) bool {
+func isSmall(t *testing.T, s exact.Poly, most int) bool {
 	t.Helper()
 	rows, err := s.Rows()
 	if err != nil {
@@ -38,33 +37,30 @@ func TestJoinsAlways(t *testing.T) {
 	m := makerOf(165)
 	narrow := 0
 	for range 1500 {
-		of := m.of(5)
-		c, s := chosen(of), scannerOf(of, []int{api.MaxEntry, 1000, 8}[m.Intn(3)])
-		p, _ := m.state(c)
-		q, _ := m.state(c)
-		a, b := state{Poly: exact.Of(p)}, state{Poly: exact.Of(q)}
-		join, around, widened := s.join(a, b), s.around(a, b), s.widen(a, b)
-		for _, both := range []state{join, around, widened} {
-			if !within(a, both) || !within(b, both) || !isSmall(t, both, s.most) {
-				t.Fatal(said(of, p), said(of, q), s.most, both)
+		of := m.of()
+		s := joinerOf(of, []int{api.MaxEntry, 1000, 8}[m.Intn(3)])
+		a, b := m.poly(len(of)), m.poly(len(of))
+		join, around, widened := s.Join(a, b), s.around(a, b), s.Widen(a, b)
+		for _, both := range []exact.Poly{join, around, widened} {
+			if !a.Within(both) || !b.Within(both) || !isSmall(t, both, s.Most) {
+				t.Fatal(a, b, s.Most, both)
 			}
 		}
-		if s.most > 1000 && within(join, around) && len(around.Up)+len(around.Even) > 0 {
+		if s.Most > 1000 && join.Within(around) && len(around.Up)+len(around.Even) > 0 {
 			narrow++
 		}
 		// Whatever it is widened by, it soon stays.
 		changes := 0
 		for range 40 {
-			next := s.widen(widened, around)
-			if !within(next, widened) {
+			next := s.Widen(widened, around)
+			if !next.Within(widened) {
 				changes++
 			}
 			widened = next
-			r, _ := m.state(c)
-			around = state{Poly: exact.Of(r)}
+			around = m.poly(len(of))
 		}
 		if changes > 25 {
-			t.Error(said(of, p), changes)
+			t.Error(a, changes)
 		}
 	}
 	if narrow < 100 {
@@ -92,12 +88,12 @@ func TestJoins(t *testing.T) {
 		{"xy", "x >= 0, y >= 0, x y <= 1", "x <= 3, y <= 3, x y >= 5", "x >= 0, y >= 0, y <= 3, x <= 3, y <= x 1, x <= y 1", "x >= 0, y >= 0, x <= 3, y <= 3, x y <= 6", "x >= 0, y >= 0"},
 		{"xy", "x = y, x >= 0, x <= 1", "x = -y 10, x >= 4, x <= 6", "x >= y -2, x <= y 2, x y >= 0, x y <= 10, 3x >= 2y, 3y >= 2x", "x >= y -2, x <= y 2, x y >= 0, x y <= 10, x >= 0, y >= 0", "x >= 0, y >= 0"},
 	} {
-		s := scannerOf(c.of, api.MaxEntry)
-		a, b := stateIs(c.of, c.a), stateIs(c.of, c.b)
+		s := joinerOf(c.of, api.MaxEntry)
+		a, b := polyIs(c.of, c.a), polyIs(c.of, c.b)
 		for i, pair := range []struct {
-			got  state
+			got  exact.Poly
 			want string
-		}{{s.join(a, b), c.join}, {s.around(a, b), c.around}, {s.widen(a, b), c.widen}} {
+		}{{s.Join(a, b), c.join}, {s.around(a, b), c.around}, {s.Widen(a, b), c.widen}} {
 			rows, err := pair.got.Rows()
 			if !same(rows, formed(c.of, pair.want)) || err != nil {
 				t.Error(c, i, said(c.of, rows), err)
@@ -135,7 +131,7 @@ func TestByRows(t *testing.T) {
 			lists = append(lists, up)
 		}
 		_, even := exact.Split(loose(of, c.even).Rows)
-		rows, err := scannerOf(of, c.most).byRows(even, lists...).Rows()
+		rows, err := joinerOf(of, c.most).byRows(len(of), even, lists...).Rows()
 		if !same(rows, formed(of, c.want)) || err != nil {
 			t.Error(c, said(of, rows), err)
 		}
@@ -145,21 +141,21 @@ func TestByRows(t *testing.T) {
 // Rows with too great numbers are let go, wherever they come from; and so many that no more are left than can be handed in.
 func TestKept(t *testing.T) {
 	of := "xy"
-	great := stateIs(of, "y = 1001x, x >= 0, x <= 9")
-	other := stateIs(of, "y = 1001x, x >= 10, x <= 12")
+	great := polyIs(of, "y = 1001x, x >= 0, x <= 9")
+	other := polyIs(of, "y = 1001x, x >= 10, x <= 12")
 	for i, c := range []struct {
-		got  state
+		got  exact.Poly
 		want string
 	}{
-		{scannerOf(of, 1001).join(great, other), "y = 1001x, y >= 0, y <= 12012"},
-		{scannerOf(of, 20000).join(great, other), "y = 1001x, y >= 0, y <= 12012"},
-		{scannerOf(of, 1000).join(great, great), "y >= 0"},
-		{scannerOf(of, 1000).join(great, other), "y >= 0"},
-		{scannerOf(of, 1000).widen(great, other), "x >= 0, y >= 0"},
-		{scannerOf(of, 1000).around(great, other), "x >= 0, y >= 0, x <= 12"},
-		{scannerOf(of, 0).join(great, other), ""},
-		{scannerOf(of, 0).widen(great, other), ""},
-		{scannerOf(of, 0).join(great, scannerOf(of, 0).nothing()), "y = 1001x, x >= 0, x <= 9"},
+		{joinerOf(of, 1001).Join(great, other), "y = 1001x, y >= 0, y <= 12012"},
+		{joinerOf(of, 20000).Join(great, other), "y = 1001x, y >= 0, y <= 12012"},
+		{joinerOf(of, 1000).Join(great, great), "y >= 0"},
+		{joinerOf(of, 1000).Join(great, other), "y >= 0"},
+		{joinerOf(of, 1000).Widen(great, other), "x >= 0, y >= 0"},
+		{joinerOf(of, 1000).around(great, other), "x >= 0, y >= 0, x <= 12"},
+		{joinerOf(of, 0).Join(great, other), ""},
+		{joinerOf(of, 0).Widen(great, other), ""},
+		{joinerOf(of, 0).Join(great, nothing(of)), "y = 1001x, x >= 0, x <= 9"},
 	} {
 		rows, err := c.got.Rows()
 		want := formed(of, c.want)
@@ -174,19 +170,15 @@ func TestKept(t *testing.T) {
 	m := makerOf(166)
 	full := 0
 	for range 10 {
-		s := scannerOf("xyzwv", api.MaxEntry)
-		side := func() state {
-			act := round(m, 6, 6, 23).Edges[5].Act
-			one := stateOf(s.after(stateIs("xyzwv", "v = 0").Poly, act))
-			if !one.isLost {
-				return one
-			}
-			t.Fatal(one)
-			return state{}
+		s := joinerOf("xyzwv", api.MaxEntry)
+		side := func() exact.Poly {
+			p := m.round(5, 23)
+			p.Rows = append(p.Rows, loose("xyzwv", "v = 0").Rows...)
+			return exact.Of(p)
 		}
 		a, b := side(), side()
-		for _, both := range []state{s.join(a, b), s.around(a, b), s.widen(a, b)} {
-			if !within(a, both) || !within(b, both) || !isSmall(t, both, api.MaxEntry) {
+		for _, both := range []exact.Poly{s.Join(a, b), s.around(a, b), s.Widen(a, b)} {
+			if !a.Within(both) || !b.Within(both) || !isSmall(t, both, api.MaxEntry) {
 				t.Fatal(both)
 			}
 			if len(both.Up)+len(both.Even) == api.MaxRows && len(both.Even) == 1 {
@@ -201,7 +193,7 @@ func TestKept(t *testing.T) {
 
 // Two of which the least that has both has too many rows to be told: some that hold for both are.
 func TestJoinMany(t *testing.T) {
-	simplex := func(from int) state {
+	simplex := func(from int) exact.Poly {
 		var gens api.Gens
 		for x := from; x < from+6; x++ {
 			gens.Points = append(gens.Points, api.Point{X: []int{x, x * x, x * x * x, x * x * x * x, x * x * x * x * x}, Den: 1})
@@ -211,18 +203,17 @@ func TestJoinMany(t *testing.T) {
 		if err != nil || poly.Valid(p) != nil {
 			t.Fatal(p, err)
 		}
-		return state{Poly: exact.Of(p)}
+		return exact.Of(p)
 	}
 	a, b := simplex(-6), simplex(0)
-	v := viewOf(names(), Choice{0, 1, 2, 3, 4})
 	if _, ok := exact.FewMade(5, slices.Concat(a.Rays, b.Rays), nil, api.MaxMany); ok {
 		t.Error("few rows")
 	}
 	for _, most := range []int{api.MaxEntry, 1000, 0} {
-		s := scanner{view: v, most: most, stops: ways(v.zeros().Poly)}
-		for i, both := range []state{s.join(a, b), s.join(s.join(a, a), s.join(b, b)), s.widen(a, b)} {
+		s := joinerOf("xyzwv", most)
+		for i, both := range []exact.Poly{s.Join(a, b), s.Join(s.Join(a, a), s.Join(b, b)), s.Widen(a, b)} {
 			rows, err := both.Rows()
-			if !within(a, both) || !within(b, both) || err != nil || poly.Valid(rows) != nil {
+			if !a.Within(both) || !b.Within(both) || err != nil || poly.Valid(rows) != nil {
 				t.Error(most, rows, err)
 			}
 			if slices.ContainsFunc(rows.Rows, func(r api.Row) bool {
@@ -238,8 +229,8 @@ func TestJoinMany(t *testing.T) {
 			}
 		}
 		// Of nothing and another one: that one, as it is.
-		for _, both := range []state{s.join(a, v.nothing()), s.join(v.nothing(), a), s.widen(a, v.nothing()), s.widen(v.nothing(), a)} {
-			if !within(a, both) || !within(both, a) {
+		for _, both := range []exact.Poly{s.Join(a, nothing("xyzwv")), s.Join(nothing("xyzwv"), a), s.Widen(a, nothing("xyzwv")), s.Widen(nothing("xyzwv"), a)} {
+			if !a.Within(both) || !both.Within(a) {
 				t.Error(most, both)
 			}
 		}
