@@ -24,6 +24,11 @@ func Of(g flow.Graph, choice []int) View {
 	return v
 }
 
+// Rounds of a graph: a view of what the chosen variables were ahead, and of what they are by now. Ahead they have no names: so no act changes them, or asks of them.
+func Rounds(g flow.Graph, choice []int) View {
+	return View{append(make([]string, len(choice)), Of(g, choice).names...)}
+}
+
 // Dim of its polyhedra.
 func (v View) Dim() int { return len(v.names) }
 

@@ -87,6 +87,29 @@ func TestActs(t *testing.T) {
 	}
 }
 
+// Rounds: acts change what is behind, and ask of it alone.
+func TestRounds(t *testing.T) {
+	g := graph(t, "")
+	v := Rounds(g, []int{2})
+	for _, c := range []struct{ act, after string }{
+		{"while true{}", "x0 >= 1, x1 >= 5"},
+		{"z=7;", "x0 >= 1, x1 = 7"},
+		{"z=z+1;", "x0 >= 1, x1 >= 6"},
+		{"read z;", "x0 >= 1"},
+		{"read x;", "x0 >= 1, x1 >= 5"},
+		{"a[0]=1;", "x0 >= 1, x1 >= 5"},
+		{"assume z<9;", "x0 >= 1, x1 >= 5, -x1 >= -8"},
+		{"assume x<9;", "x0 >= 1, x1 >= 5"},
+	} {
+		if p := v.After(of("x0 >= 1, x1 >= 5"), act(t, c.act)); !same(p, of(c.after)) {
+			t.Error(c.act, said(p))
+		}
+	}
+	if v.Dim() != 2 || Rounds(g, []int{0, 2}).Dim() != 4 {
+		t.Error(v.Dim())
+	}
+}
+
 // What acts make of p lies in q just if p lies in that of which they make q, if they make something of all.
 func TestAfterAndBefore(t *testing.T) {
 	v, r := Of(graph(t, ""), []int{0, 2}), rand.New(rand.NewSource(1))

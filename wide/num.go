@@ -131,6 +131,15 @@ func (a Num) Over(b Num) Num {
 	return fromSize(sign, quotient)
 }
 
+// Floor of a over b, which is above 0: the greatest whole number that is not above that.
+func (a Num) Floor(b Num) Num {
+	quotient := a.Over(b)
+	if a.Sign() < 0 && quotient.Times(b).Compare(a) != 0 {
+		return quotient.Minus(From(1))
+	}
+	return quotient
+}
+
 // Divisor is the greatest number that divides both, 0 if both are 0.
 func Divisor(a, b Num) Num {
 	if a.isNear() && b.isNear() {

@@ -90,6 +90,10 @@ func checkPair(t *testing.T, a, b Num) {
 		quotient.Quo(x, y)
 	}
 	check("quotient", a.Over(b), quotient)
+	if y.Sign() > 0 {
+		// Of what is above 0 big's quotient is the floor.
+		check("floor", a.Floor(b), new(big.Int).Div(x, y))
+	}
 	if got := a.Compare(b); got != x.Cmp(y) {
 		t.Errorf("%v held against %v: %d", x, y, got)
 	}
