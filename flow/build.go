@@ -24,6 +24,7 @@ func opposites() map[string]relation {
 type builder struct {
 	Graph
 	at        int
+	from      []int // where each statement stands, so far
 	opposites map[string]relation
 }
 
@@ -76,6 +77,7 @@ func (b *builder) block(l []lang.Stmt) {
 }
 
 func (b *builder) statement(s lang.Stmt) {
+	b.from = append(b.from, b.at)
 	switch s.Kind {
 	case "assert":
 		b.edges(b.point(), "fail", b.opposite(s.Cond))
@@ -108,6 +110,7 @@ func (b *builder) branches(s lang.Stmt) {
 func (b *builder) loop(s lang.Stmt) {
 	b.move(Act{Kind: "skip"})
 	head := b.at
+	b.from[len(b.from)-1] = head
 	b.Heads = append(b.Heads, head)
 	b.enter(s.Cond)
 	b.block(s.Body)
@@ -133,14 +136,14 @@ func (b *builder) opposite(c lang.Cond) lang.Cond {
 func (b *builder) choice(c lang.Cond, number int) []lang.Test {
 	out := make([]lang.Test, len(c))
 	for i, row := range slices.Backward(c) {
-		out[i] = b.turned(row[number%len(row)])
+		out[i] = turned(row[number%len(row)], b.opposites)
 		number /= len(row)
 	}
 	return out
 }
 
-func (b *builder) turned(t lang.Test) lang.Test {
+func turned(t lang.Test, opposites map[string]relation) lang.Test {
 	t = fresh.Test(t)
-	t.Rel = b.opposites[t.Rel].sign
+	t.Rel = opposites[t.Rel].sign
 	return t
 }

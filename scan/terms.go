@@ -15,11 +15,28 @@ type view struct {
 	s State
 }
 
+// Seen is what a term can come to, and what its parts can.
+type Seen struct {
+	Has   api.Interval
+	Right bool // false: always something is wrong with it; then Has nothing
+	Parts []Seen
+}
+
 // node of a term: it, the numbers it can come to, and its parts.
 type node struct {
 	lang.Expr
 	has   api.Interval
+	right bool // false: there are no such numbers, as always something is wrong
 	parts []node
+}
+
+// seen: the node without the term.
+func (n node) seen() Seen {
+	s := Seen{Has: n.has, Right: n.right}
+	for _, part := range n.parts {
+		s.Parts = append(s.Parts, part.seen())
+	}
+	return s
 }
 
 // values that a program can have.
@@ -40,18 +57,16 @@ func (v view) array(name string) (lang.Array, *api.Interval) {
 
 // look at a term: false: always something is wrong with it.
 func (v view) look(e lang.Expr) (node, bool) {
-	n := node{Expr: e, parts: make([]node, len(e.L))}
+	n := node{Expr: e, right: !v.s.None, parts: make([]node, len(e.L))}
 	for i, part := range e.L {
 		var ok bool
-		if n.parts[i], ok = v.look(part); !ok {
-			return node{}, false
-		}
+		n.parts[i], ok = v.look(part)
+		n.right = n.right && ok
 	}
-	var ok bool
-	if n.has, ok = v.numbers(n); !ok {
-		return node{}, false
+	if n.right {
+		n.has, n.right = v.numbers(n)
 	}
-	return n, true
+	return n, n.right
 }
 
 // numbers that a node can come to, by its parts: none too great, as that is wrong on the way, too.
