@@ -20,7 +20,7 @@ func sights(p lang.Program) []sight {
 	if err != nil {
 		return nil
 	}
-	t, err := scan.Scan(g, stops(g))
+	t, err := scan.Scan(g, scan.Stops(g))
 	if err != nil {
 		return nil
 	}

@@ -67,16 +67,20 @@ func (a Act) hasItsFields() bool {
 	return false
 }
 
-// program that does the act alone: with all its tests it goes along a fail as along a test, else it is stuck.
+// program that does the act alone.
 func (g Graph) program(a Act) lang.Program {
-	p := lang.Program{Vars: g.Vars, Arrays: g.Arrays}
+	return lang.Program{Vars: g.Vars, Arrays: g.Arrays, Main: a.deeds()}
+}
+
+// deeds: the statements that do the act. With all its tests a run goes along a fail as along a test, else it is stuck.
+func (a Act) deeds() []lang.Stmt {
 	switch a.Kind {
 	case "set", "put", "read":
-		p.Main = []lang.Stmt{{Kind: a.Kind, Name: a.Name, Args: a.Args}}
+		return []lang.Stmt{{Kind: a.Kind, Name: a.Name, Args: a.Args}}
 	case "test", "fail":
-		p.Main = []lang.Stmt{{Kind: "assume", Cond: lang.Cond{a.Tests}}}
+		return []lang.Stmt{{Kind: "assume", Cond: lang.Cond{a.Tests}}}
 	}
-	return p
+	return nil
 }
 
 // state at a point, and what is read there.

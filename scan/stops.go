@@ -1,4 +1,4 @@
-package compile
+package scan
 
 import (
 	"cmp"
@@ -9,11 +9,14 @@ import (
 	"raycone/lang"
 )
 
-// maxStops that intervals are widened by.
+// maxStops that are worth their time.
 const maxStops = 20
 
-// stops at which widening may rest: the numbers that the tests of a graph name, and those beside them; the least ones, if they are too many.
-func stops(g flow.Graph) []int {
+// Stops of a graph, at which widening may rest: the numbers that its tests name, and those beside them; the least ones, if they are too many; none of a graph that is not valid.
+func Stops(g flow.Graph) []int {
+	if flow.Valid(g) != nil {
+		return nil
+	}
 	var l []int
 	for _, e := range g.Edges {
 		for _, t := range e.Act.Tests {
