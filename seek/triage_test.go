@@ -70,6 +70,11 @@ func TestTriage(t *testing.T) {
 		"while true{if x<100{x=x+1;}assert x<=100;}":   "[{7 safe}]",
 		"while true{if u<100{u=u+1;}assert u<=100;}":   "[{7 safe}]",
 		"while x<10{x=x+1;a[0]=a[0]+1;}assert a[1]<2;": "[{6 open}]",
+		// By stops alone, and by the third variable.
+		"read y;while true{if u<100{u=u+1;}if y<1{assert u<=100;}}": "[{9 safe}]",
+		"read y;while true{if u<100{u=u+2;}if y<1{assert u<=100;}}": "[{9 open}]",
+		"while x<10{x=x+1;z=z+2;}assert z<=2*x;":                    "[{6 safe}]",
+		"while x<10{x=x+1;w=w+2;}assert w<=2*x;":                    "[{6 open}]",
 		// Just so many edges, and one more.
 		"while x<65{x=x+1;}assert x!=65;":                   "[{5 fails}]",
 		"y=1;y=2;while x<65{x=x+1;}assert x!=65;":           "[{7 fails}]",
